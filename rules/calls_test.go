@@ -1,0 +1,366 @@
+package rules
+
+import (
+	"fmt"
+	"go/ast"
+	"math"
+	"reflect"
+	"strings"
+	"sync"
+	"testing"
+
+	"fulcrum/api"
+	"fulcrum/whole"
+)
+
+// The rules R1, R3 and R4 for the layers that are functions on plain numbers. Each function is called with all that its arguments' types may be drawn from; what it was given and what it answers is gone through by reflection, so that a new layer adds no more than a list of its functions.
+
+// listed is one of the functions that a chapter lists.
+type listed struct {
+	name string
+	do   any
+}
+
+// drawn is the values that an argument of each type is drawn from.
+type drawn map[reflect.Type][]any
+
+func numberFunctions() []listed {
+	return []listed{
+		{"whole.Of", whole.Of}, {"whole.Small", whole.Small}, {"whole.Norm", whole.Norm}, {"whole.Neg", whole.Neg}, {"whole.Abs", whole.Abs},
+		{"whole.Sign", whole.Sign}, {"whole.Cmp", whole.Cmp}, {"whole.Add", whole.Add}, {"whole.Sub", whole.Sub}, {"whole.Mul", whole.Mul},
+		{"whole.Quo", whole.Quo}, {"whole.Floor", whole.Floor}, {"whole.Euclid", whole.Euclid}, {"whole.Gcd", whole.Gcd}, {"whole.Lcm", whole.Lcm},
+		{"whole.Bezout", whole.Bezout}, {"whole.Inverse", whole.Inverse}, {"whole.Shift", whole.Shift}, {"whole.Pow", whole.Pow},
+		{"whole.Root", whole.Root}, {"whole.Text", whole.Text}, {"whole.Parse", whole.Parse},
+	}
+}
+
+func arguments() drawn {
+	out := drawn{}
+	add := func(v any) { out[reflect.TypeOf(v)] = append(out[reflect.TypeOf(v)], v) }
+	for _, n := range []int64{0, 1, -1, math.MaxInt64, math.MinInt64} {
+		add(n)
+	}
+	for _, n := range []int{0, 1, -1, 2, 3, -5, -32, -33, 40, -64, -1000, api.MaxShift + 1, -api.MaxShift - 1, math.MaxInt, math.MinInt} {
+		add(n)
+	}
+	for _, s := range []string{"", "0", "-", "-0", "7", "-18446744073709551616", "+1", "007", "\xff", "é", strings.Repeat("z", 300), strings.Repeat("1", 300), strings.Repeat("0", 300)} {
+		add(s)
+	}
+	for _, abs := range someLimbs() {
+		add(api.Int{Abs: abs})
+		add(api.Int{Neg: true, Abs: abs})
+	}
+	return out
+}
+
+func someLimbs() []api.Nat {
+	const full = 0xffffffff
+	long := make(api.Nat, 70)
+	for i := range long {
+		long[i] = full - uint32(i*i)
+	}
+	return []api.Nat{
+		nil, {}, {0}, {0, 0}, {1}, {1, 0}, {2}, {6, 0, 0}, {7}, {12}, {0x80000000}, {full},
+		{0, 1}, {full, full}, {0, 0x80000000}, {0, 0, 1}, {full, full, full, 0}, long,
+	}
+}
+
+// eachCall hands on every function with every choice of its arguments.
+func eachCall(do func(f listed, args []reflect.Value)) {
+	from := arguments()
+	for _, f := range numberFunctions() {
+		eachChoice(from, reflect.TypeOf(f.do), nil, func(args []reflect.Value) { do(f, args) })
+	}
+}
+
+func eachChoice(from drawn, f reflect.Type, head []reflect.Value, do func(args []reflect.Value)) {
+	if len(head) == f.NumIn() {
+		do(head)
+		return
+	}
+	choices := from[f.In(len(head))]
+	if len(choices) == 0 {
+		panic("nothing to draw from: " + f.In(len(head)).String())
+	}
+	for _, v := range choices {
+		eachChoice(from, f, append(head[:len(head):len(head)], reflect.ValueOf(v)), do)
+	}
+}
+
+func call(f listed, args []reflect.Value) []reflect.Value {
+	return reflect.ValueOf(f.do).Call(args)
+}
+
+// tell is values as a text, in which nil and the empty list are the same.
+func tell(l []reflect.Value) string {
+	var out strings.Builder
+	for _, v := range l {
+		tellOne(&out, v)
+		out.WriteByte(' ')
+	}
+	return out.String()
+}
+
+func tellOne(out *strings.Builder, v reflect.Value) {
+	if v.Kind() != reflect.Slice && v.Kind() != reflect.Struct {
+		fmt.Fprintf(out, "%#v", v.Interface())
+		return
+	}
+	out.WriteByte('(')
+	out.WriteString(tell(parts(v)))
+	out.WriteByte(')')
+}
+
+// parts is the elements of a list, or the fields of a struct.
+func parts(v reflect.Value) []reflect.Value {
+	var out []reflect.Value
+	switch v.Kind() {
+	case reflect.Slice:
+		for i := range v.Len() {
+			out = append(out, v.Index(i))
+		}
+	case reflect.Struct:
+		for i := range v.NumField() {
+			out = append(out, v.Field(i))
+		}
+	}
+	return out
+}
+
+// remade is a value in new memory, each of its lists made by remake from a copy of itself.
+func remade(v reflect.Value, remake func(list reflect.Value) reflect.Value) reflect.Value {
+	out := reflect.New(v.Type()).Elem()
+	switch v.Kind() {
+	case reflect.Slice:
+		list := reflect.MakeSlice(v.Type(), v.Len(), v.Len())
+		for i := range v.Len() {
+			list.Index(i).Set(remade(v.Index(i), remake))
+		}
+		out.Set(remake(list))
+	case reflect.Struct:
+		for i := range v.NumField() {
+			out.Field(i).Set(remade(v.Field(i), remake))
+		}
+	default:
+		out.Set(v)
+	}
+	return out
+}
+
+func remadeAll(l []reflect.Value, remake func(list reflect.Value) reflect.Value) []reflect.Value {
+	var out []reflect.Value
+	for _, v := range l {
+		out = append(out, remade(v, remake))
+	}
+	return out
+}
+
+// guarded is arguments whose lists are pieces of longer ones, which are told too.
+func guarded(l []reflect.Value) (args, longer []reflect.Value) {
+	args = remadeAll(l, func(list reflect.Value) reflect.Value {
+		const ahead, behind = 2, 3
+		all := reflect.MakeSlice(list.Type(), ahead+list.Len()+behind, ahead+list.Len()+behind)
+		for i := range all.Len() {
+			if all.Index(i).CanUint() {
+				all.Index(i).SetUint(0xdeadbeef)
+			}
+		}
+		reflect.Copy(all.Slice(ahead, ahead+list.Len()), list)
+		longer = append(longer, all)
+		return all.Slice(ahead, ahead+list.Len())
+	})
+	return args, longer
+}
+
+// room is the memory of a list, its spare room too.
+type room struct{ from, to uintptr }
+
+func rooms(l []reflect.Value) []room {
+	var out []room
+	for _, v := range l {
+		if v.Kind() == reflect.Slice && v.Cap() > 0 {
+			out = append(out, room{v.Pointer(), v.Pointer() + uintptr(v.Cap())*v.Type().Elem().Size()})
+		}
+		out = append(out, rooms(parts(v))...)
+	}
+	return out
+}
+
+func overlap(a, b room) bool {
+	return a.from < b.to && b.from < a.to
+}
+
+// Every function of a package that stands in the list is there.
+func TestEveryNumberFunctionIsListed(t *testing.T) {
+	packs, names := map[string]bool{}, map[string]bool{}
+	for _, f := range numberFunctions() {
+		pack, _, _ := strings.Cut(f.name, ".")
+		packs[pack], names[f.name] = true, true
+	}
+	for _, s := range sources(t) {
+		for _, d := range s.file.Decls {
+			f, ok := d.(*ast.FuncDecl)
+			if ok && f.Name.IsExported() && packs[s.pack] && !names[s.pack+"."+f.Name.Name] {
+				t.Errorf("%s.%s is not listed", s.pack, f.Name.Name)
+			}
+		}
+	}
+}
+
+// A panic would end the test; so would a call that does not end.
+func TestR1NoCallPanics(t *testing.T) {
+	n := 0
+	eachCall(func(f listed, args []reflect.Value) {
+		call(f, args)
+		n++
+	})
+	if n == 0 {
+		t.Fatal("nothing was called")
+	}
+}
+
+func TestR2NothingBesideAnError(t *testing.T) {
+	eachCall(func(f listed, args []reflect.Value) {
+		l := call(f, args)
+		last := l[len(l)-1]
+		if last.Type() != reflect.TypeFor[api.Errno]() || last.Int() == 0 {
+			return
+		}
+		for _, v := range l[:len(l)-1] {
+			if tell([]reflect.Value{v}) != tell([]reflect.Value{reflect.Zero(v.Type())}) {
+				t.Fatalf("%s of %s: %s", f.name, tell(args), tell(l))
+			}
+		}
+	})
+}
+
+func TestR3ArgumentsStayAsTheyAre(t *testing.T) {
+	eachCall(func(f listed, args []reflect.Value) {
+		given, longer := guarded(args)
+		was := tell(longer)
+		got := tell(call(f, given))
+		if tell(longer) != was {
+			t.Fatalf("%s of %s has changed what it was given", f.name, tell(args))
+		}
+		if want := tell(call(f, args)); got != want {
+			t.Fatalf("%s of %s hangs on what lies behind a list: %s, not %s", f.name, tell(args), got, want)
+		}
+	})
+}
+
+func TestR3AnswersAreNewMemory(t *testing.T) {
+	eachCall(func(f listed, args []reflect.Value) {
+		given, longer := guarded(args)
+		first, second := call(f, given), call(f, given)
+		answers := append(rooms(first), rooms(second)...)
+		for i, a := range answers {
+			for _, b := range append(answers[i+1:len(answers):len(answers)], rooms(longer)...) {
+				if overlap(a, b) {
+					t.Fatalf("%s of %s: an answer shares its memory", f.name, tell(args))
+				}
+			}
+		}
+	})
+}
+
+// One list given as all arguments of its type.
+func TestR3SharedArguments(t *testing.T) {
+	eachCall(func(f listed, args []reflect.Value) {
+		shared := make([]reflect.Value, len(args))
+		for i, v := range args {
+			shared[i] = v
+			for j := range i {
+				if args[j].Type() == v.Type() {
+					shared[i] = args[j]
+					break
+				}
+			}
+		}
+		apart := remadeAll(shared, func(list reflect.Value) reflect.Value { return list })
+		if got, want := tell(call(f, shared)), tell(call(f, apart)); got != want {
+			t.Fatalf("%s of %s: %s, not %s", f.name, tell(shared), got, want)
+		}
+	})
+}
+
+func TestR3NilIsTheEmptyList(t *testing.T) {
+	eachCall(func(f listed, args []reflect.Value) {
+		withNil := remadeAll(args, func(list reflect.Value) reflect.Value {
+			if list.Len() == 0 {
+				return reflect.Zero(list.Type())
+			}
+			return list
+		})
+		withEmpty := remadeAll(args, func(list reflect.Value) reflect.Value { return list })
+		if a, b := tell(call(f, withNil)), tell(call(f, withEmpty)); a != b {
+			t.Fatalf("%s of %s tells nil from the empty list: %s and %s", f.name, tell(args), a, b)
+		}
+	})
+}
+
+// The same call answers the same, whatever was called ahead of it or is called beside it.
+func TestR4AnswersHangOnArgumentsAlone(t *testing.T) {
+	var told []string
+	eachCall(func(f listed, args []reflect.Value) { told = append(told, tell(call(f, args))) })
+	var wait sync.WaitGroup
+	for range 4 {
+		wait.Go(func() {
+			i := 0
+			eachCall(func(f listed, args []reflect.Value) {
+				if again := tell(call(f, args)); again != told[i] {
+					t.Errorf("%s of %s: %s, then %s", f.name, tell(args), told[i], again)
+				}
+				i++
+			})
+		})
+	}
+	wait.Wait()
+}
+
+// Noughts at the end of a list, and the sign of 0, count for nothing.
+func TestNumbersAreReadAsTheyAre(t *testing.T) {
+	eachCall(func(f listed, args []reflect.Value) {
+		var other []reflect.Value
+		for _, v := range args {
+			if a, ok := v.Interface().(api.Int); ok {
+				v = reflect.ValueOf(otherwise(a))
+			}
+			other = append(other, v)
+		}
+		if got, want := tell(call(f, other)), tell(call(f, args)); got != want {
+			t.Fatalf("%s of %s: %s, but of %s: %s", f.name, tell(args), want, tell(other), got)
+		}
+	})
+}
+
+// otherwise is the same number, written otherwise.
+func otherwise(a api.Int) api.Int {
+	abs := append(append(api.Nat{}, a.Abs...), 0)
+	for _, limb := range a.Abs {
+		if limb != 0 {
+			return api.Int{Neg: a.Neg, Abs: abs}
+		}
+	}
+	return api.Int{Neg: !a.Neg, Abs: abs}
+}
+
+func TestAnswersAreNormal(t *testing.T) {
+	eachCall(func(f listed, args []reflect.Value) {
+		l := call(f, args)
+		for _, v := range l {
+			if !isNormal(v) {
+				t.Fatalf("%s of %s: %s is not normal", f.name, tell(args), tell(l))
+			}
+		}
+	})
+}
+
+func isNormal(v reflect.Value) bool {
+	switch x := v.Interface().(type) {
+	case api.Nat:
+		return len(x) == 0 || x[len(x)-1] != 0
+	case api.Int:
+		return isNormal(reflect.ValueOf(x.Abs)) && (len(x.Abs) > 0 || !x.Neg)
+	}
+	return true
+}
