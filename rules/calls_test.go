@@ -4,12 +4,14 @@ import (
 	"fmt"
 	"go/ast"
 	"math"
+	"math/big"
 	"reflect"
 	"strings"
 	"sync"
 	"testing"
 
 	"fulcrum/api"
+	"fulcrum/ratio"
 	"fulcrum/whole"
 )
 
@@ -31,6 +33,12 @@ func numberFunctions() []listed {
 		{"whole.Quo", whole.Quo}, {"whole.Floor", whole.Floor}, {"whole.Euclid", whole.Euclid}, {"whole.Gcd", whole.Gcd}, {"whole.Lcm", whole.Lcm},
 		{"whole.Bezout", whole.Bezout}, {"whole.Inverse", whole.Inverse}, {"whole.Shift", whole.Shift}, {"whole.Pow", whole.Pow},
 		{"whole.Root", whole.Root}, {"whole.Text", whole.Text}, {"whole.Parse", whole.Parse},
+
+		{"ratio.Norm", ratio.Norm}, {"ratio.Of", ratio.Of}, {"ratio.Whole", ratio.Whole}, {"ratio.Sign", ratio.Sign}, {"ratio.Cmp", ratio.Cmp},
+		{"ratio.Neg", ratio.Neg}, {"ratio.Abs", ratio.Abs}, {"ratio.Add", ratio.Add}, {"ratio.Sub", ratio.Sub}, {"ratio.Mul", ratio.Mul},
+		{"ratio.Inv", ratio.Inv}, {"ratio.Div", ratio.Div}, {"ratio.Floor", ratio.Floor}, {"ratio.Ceil", ratio.Ceil},
+		{"ratio.Expand", ratio.Expand}, {"ratio.Fold", ratio.Fold}, {"ratio.Simplest", ratio.Simplest}, {"ratio.Best", ratio.Best},
+		{"ratio.Text", ratio.Text}, {"ratio.Parse", ratio.Parse}, {"ratio.Decimal", ratio.Decimal}, {"ratio.Script", ratio.Script},
 	}
 }
 
@@ -43,14 +51,47 @@ func arguments() drawn {
 	for _, n := range []int{0, 1, -1, 2, 3, -5, -32, -33, 40, -64, -1000, api.MaxShift + 1, -api.MaxShift - 1, math.MaxInt, math.MinInt} {
 		add(n)
 	}
-	for _, s := range []string{"", "0", "-", "-0", "7", "-18446744073709551616", "+1", "007", "\xff", "é", strings.Repeat("z", 300), strings.Repeat("1", 300), strings.Repeat("0", 300)} {
+	for _, s := range []string{
+		"", "0", "-", "-0", "7", "-18446744073709551616", "+1", "007", "\xff", "é", strings.Repeat("z", 300), strings.Repeat("1", 300), strings.Repeat("0", 300),
+		"6/4", "-0/1", "1/", "/1", "1/0", "-0.50", "1.", ".5", "1.5/2", strings.Repeat("1", 300) + "." + strings.Repeat("0", 300), "-1/" + strings.Repeat("2", 300),
+	} {
 		add(s)
 	}
 	for _, abs := range someLimbs() {
+		add(abs)
 		add(api.Int{Abs: abs})
 		add(api.Int{Neg: true, Abs: abs})
 	}
+	for _, r := range someRats() {
+		add(r)
+	}
+	for _, l := range someLists() {
+		add(l)
+	}
 	return out
+}
+
+// someRats has numbers without a Den, not in lowest terms, and with noughts at the end of their lists.
+func someRats() []api.Rat {
+	limbs := someLimbs()
+	long, short := limbs[len(limbs)-1], api.Nat{3, 0}
+	below := func(abs api.Nat) api.Int { return api.Int{Neg: true, Abs: abs} }
+	return []api.Rat{
+		{}, {Num: whole.Of(5)}, {Num: below(long), Den: api.Nat{0, 0}}, {Num: below(nil), Den: short}, {Num: below(api.Nat{0}), Den: long},
+		{Num: whole.Of(1), Den: api.Nat{2}}, {Num: below(api.Nat{1, 0, 0}), Den: api.Nat{2, 0}}, {Num: whole.Of(6), Den: api.Nat{4}}, {Num: whole.Of(-7), Den: api.Nat{2}},
+		{Num: whole.Of(3), Den: api.Nat{1}}, {Num: below(short), Den: api.Nat{1, 0}}, {Num: whole.Of(415), Den: api.Nat{93}}, {Num: below(api.Nat{0, 0, 1}), Den: short},
+		{Num: api.Int{Abs: long}, Den: short}, {Num: below(long), Den: long}, {Num: below(long), Den: limbs[len(limbs)-2]}, {Num: whole.Of(1), Den: api.Nat{0, 0, 0, 1}},
+	}
+}
+
+// someLists has numbers of continued fractions, and some that are of none.
+func someLists() [][]api.Int {
+	limbs := someLimbs()
+	n := func(abs ...uint32) api.Int { return api.Int{Abs: abs} }
+	return [][]api.Int{
+		nil, {}, {n()}, {n(5)}, {{Neg: true, Abs: api.Nat{5, 0}}}, {n(4), n(2), n(6), n(7)}, {n(), n(1), n(1)}, {{Neg: true}, n(2, 0)},
+		{n(1), n(0)}, {n(1), {Neg: true, Abs: api.Nat{3}}, n(2)}, {n(1), n(2), n()}, {{Neg: true, Abs: limbs[len(limbs)-1]}, n(1), n(0, 0, 7), n(1, 0)},
+	}
 }
 
 func someLimbs() []api.Nat {
@@ -161,15 +202,30 @@ func guarded(l []reflect.Value) (args, longer []reflect.Value) {
 		const ahead, behind = 2, 3
 		all := reflect.MakeSlice(list.Type(), ahead+list.Len()+behind, ahead+list.Len()+behind)
 		for i := range all.Len() {
-			if all.Index(i).CanUint() {
-				all.Index(i).SetUint(0xdeadbeef)
-			}
+			mark(all.Index(i))
 		}
 		reflect.Copy(all.Slice(ahead, ahead+list.Len()), list)
 		longer = append(longer, all)
 		return all.Slice(ahead, ahead+list.Len())
 	})
 	return args, longer
+}
+
+// mark fills what lies around a list, so that a change of it is seen.
+func mark(v reflect.Value) {
+	switch {
+	case v.CanUint():
+		v.SetUint(0xdeadbeef)
+	case v.Kind() == reflect.Bool:
+		v.SetBool(true)
+	case v.Kind() == reflect.Slice:
+		v.Set(reflect.MakeSlice(v.Type(), 1, 1))
+		mark(v.Index(0))
+	case v.Kind() == reflect.Struct:
+		for _, part := range parts(v) {
+			mark(part)
+		}
+	}
 }
 
 // room is the memory of a list, its spare room too.
@@ -219,11 +275,14 @@ func TestR1NoCallPanics(t *testing.T) {
 	}
 }
 
+func isError(v reflect.Value) bool {
+	return v.Type() == reflect.TypeFor[api.Errno]() && v.Int() != 0
+}
+
 func TestR2NothingBesideAnError(t *testing.T) {
 	eachCall(func(f listed, args []reflect.Value) {
 		l := call(f, args)
-		last := l[len(l)-1]
-		if last.Type() != reflect.TypeFor[api.Errno]() || last.Int() == 0 {
+		if !isError(l[len(l)-1]) {
 			return
 		}
 		for _, v := range l[:len(l)-1] {
@@ -317,15 +376,12 @@ func TestR4AnswersHangOnArgumentsAlone(t *testing.T) {
 	wait.Wait()
 }
 
-// Noughts at the end of a list, and the sign of 0, count for nothing.
+// Noughts at the end of a list, the sign of 0, what is divided by 0 and what divides both parts count for nothing.
 func TestNumbersAreReadAsTheyAre(t *testing.T) {
 	eachCall(func(f listed, args []reflect.Value) {
 		var other []reflect.Value
 		for _, v := range args {
-			if a, ok := v.Interface().(api.Int); ok {
-				v = reflect.ValueOf(otherwise(a))
-			}
-			other = append(other, v)
+			other = append(other, otherwise(v))
 		}
 		if got, want := tell(call(f, other)), tell(call(f, args)); got != want {
 			t.Fatalf("%s of %s: %s, but of %s: %s", f.name, tell(args), want, tell(other), got)
@@ -333,20 +389,62 @@ func TestNumbersAreReadAsTheyAre(t *testing.T) {
 	})
 }
 
-// otherwise is the same number, written otherwise.
-func otherwise(a api.Int) api.Int {
-	abs := append(append(api.Nat{}, a.Abs...), 0)
-	for _, limb := range a.Abs {
-		if limb != 0 {
-			return api.Int{Neg: a.Neg, Abs: abs}
+// otherwise is the same value, its numbers written otherwise.
+func otherwise(v reflect.Value) reflect.Value {
+	switch x := v.Interface().(type) {
+	case api.Nat:
+		return reflect.ValueOf(otherNat(x))
+	case api.Int:
+		return reflect.ValueOf(otherInt(x))
+	case api.Rat:
+		return reflect.ValueOf(otherRat(x))
+	case []api.Int:
+		var out []api.Int
+		for _, a := range x {
+			out = append(out, otherInt(a))
 		}
+		return reflect.ValueOf(out)
 	}
-	return api.Int{Neg: !a.Neg, Abs: abs}
+	return v
+}
+
+func otherNat(a api.Nat) api.Nat {
+	return append(append(api.Nat{}, a...), 0)
+}
+
+func otherInt(a api.Int) api.Int {
+	return api.Int{Neg: a.Neg != isNought(a.Abs), Abs: otherNat(a.Abs)}
+}
+
+func otherRat(r api.Rat) api.Rat {
+	switch {
+	case isNought(r.Den):
+		return api.Rat{Num: whole.Add(r.Num, whole.Of(7)), Den: otherNat(r.Den)}
+	case isNought(r.Num.Abs):
+		return api.Rat{Num: otherInt(r.Num), Den: api.Nat{5, 5}}
+	}
+	six := whole.Of(6)
+	return api.Rat{Num: otherInt(whole.Mul(r.Num, six)), Den: otherNat(whole.Mul(api.Int{Abs: r.Den}, six).Abs)}
+}
+
+func isNought(a api.Nat) bool {
+	return bigOf(a).Sign() == 0
+}
+
+func bigOf(a api.Nat) *big.Int {
+	out := new(big.Int)
+	for i, limb := range a {
+		out.Add(out, new(big.Int).Lsh(big.NewInt(int64(limb)), uint(32*i)))
+	}
+	return out
 }
 
 func TestAnswersAreNormal(t *testing.T) {
 	eachCall(func(f listed, args []reflect.Value) {
 		l := call(f, args)
+		if isError(l[len(l)-1]) {
+			return
+		}
 		for _, v := range l {
 			if !isNormal(v) {
 				t.Fatalf("%s of %s: %s is not normal", f.name, tell(args), tell(l))
@@ -361,6 +459,15 @@ func isNormal(v reflect.Value) bool {
 		return len(x) == 0 || x[len(x)-1] != 0
 	case api.Int:
 		return isNormal(reflect.ValueOf(x.Abs)) && (len(x.Abs) > 0 || !x.Neg)
+	case api.Rat:
+		common := new(big.Int).GCD(nil, nil, bigOf(x.Num.Abs), bigOf(x.Den))
+		return isNormal(reflect.ValueOf(x.Num)) && isNormal(reflect.ValueOf(x.Den)) && len(x.Den) > 0 && common.Cmp(big.NewInt(1)) == 0
+	case []api.Int:
+		for _, a := range x {
+			if !isNormal(reflect.ValueOf(a)) {
+				return false
+			}
+		}
 	}
 	return true
 }
