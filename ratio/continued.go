@@ -29,12 +29,13 @@ func Fold(l []api.Int) (api.Rat, api.Errno) {
 // numbers goes through the continued fraction of f, whose den is above 0.
 func numbers(f fraction) iter.Seq[api.Int] {
 	return func(yield func(api.Int) bool) {
+		rest := f // so that it can be gone through again
 		for {
-			down, left, _ := whole.Floor(f.num, f.den)
+			down, left, _ := whole.Floor(rest.num, rest.den)
 			if !yield(down) || whole.Sign(left) == 0 {
 				return
 			}
-			f = fraction{f.den, left}
+			rest = fraction{rest.den, left}
 		}
 	}
 }

@@ -28,6 +28,7 @@ func Simplest(lo, hi api.Rat) (api.Rat, api.Errno) {
 // If no whole number lies between, all numbers there have the same Floor; and of what they are above it the simplest is 1 divided by the simplest number between what both ends make so. hi may stand above all numbers.
 func between(lo, hi fraction) iter.Seq[api.Int] {
 	return func(yield func(api.Int) bool) {
+		lo, hi := lo, hi // so that it can be gone through again
 		for {
 			down, left, _ := whole.Floor(lo.num, lo.den)
 			next := whole.Add(down, whole.Of(1))
