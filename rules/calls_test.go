@@ -11,6 +11,7 @@ import (
 	"testing"
 
 	"fulcrum/api"
+	"fulcrum/approx"
 	"fulcrum/ratio"
 	"fulcrum/whole"
 )
@@ -39,6 +40,11 @@ func numberFunctions() []listed {
 		{"ratio.Inv", ratio.Inv}, {"ratio.Div", ratio.Div}, {"ratio.Floor", ratio.Floor}, {"ratio.Ceil", ratio.Ceil},
 		{"ratio.Expand", ratio.Expand}, {"ratio.Fold", ratio.Fold}, {"ratio.Simplest", ratio.Simplest}, {"ratio.Best", ratio.Best},
 		{"ratio.Text", ratio.Text}, {"ratio.Parse", ratio.Parse}, {"ratio.Decimal", ratio.Decimal}, {"ratio.Script", ratio.Script},
+
+		{"approx.Exact", approx.Exact}, {"approx.Nearest", approx.Nearest}, {"approx.Down", approx.Down}, {"approx.Up", approx.Up},
+		{"approx.Next", approx.Next}, {"approx.Prev", approx.Prev}, {"approx.Mid", approx.Mid}, {"approx.Valid", approx.Valid}, {"approx.Around", approx.Around},
+		{"approx.In", approx.In}, {"approx.Sum", approx.Sum}, {"approx.Diff", approx.Diff}, {"approx.Prod", approx.Prod}, {"approx.Quot", approx.Quot},
+		{"approx.Read", approx.Read}, {"approx.Short", approx.Short},
 	}
 }
 
@@ -53,7 +59,7 @@ func arguments() drawn {
 	}
 	for _, s := range []string{
 		"", "0", "-", "-0", "7", "-18446744073709551616", "+1", "007", "\xff", "é", strings.Repeat("z", 300), strings.Repeat("1", 300), strings.Repeat("0", 300),
-		"6/4", "-0/1", "1/", "/1", "1/0", "-0.50", "1.", ".5", "1.5/2", strings.Repeat("1", 300) + "." + strings.Repeat("0", 300), "-1/" + strings.Repeat("2", 300),
+		"6/4", "-0/1", "1/", "/1", "1/0", "-0.50", "1.", ".5", "1.5/2", "-0e7", "1e400", "-2E-0324", "1e+", "1e5001", strings.Repeat("1", api.MaxPlaces+1), strings.Repeat("1", 300) + "." + strings.Repeat("0", 300), "-1/" + strings.Repeat("2", 300),
 	} {
 		add(s)
 	}
@@ -68,7 +74,29 @@ func arguments() drawn {
 	for _, l := range someLists() {
 		add(l)
 	}
+	for _, f := range someFloats() {
+		add(f)
+	}
+	for _, s := range someSpans() {
+		add(s)
+	}
 	return out
+}
+
+func someFloats() []float64 {
+	return []float64{
+		0, math.Copysign(0, -1), math.SmallestNonzeroFloat64, -math.SmallestNonzeroFloat64, 0x1p-1022, -0.1, 1, 123.456,
+		-math.MaxFloat64, math.MaxFloat64, math.Inf(1), math.Inf(-1), math.NaN(), math.Float64frombits(math.MaxUint64),
+	}
+}
+
+// someSpans has some that may not be too.
+func someSpans() []api.Span {
+	below, none := math.Copysign(0, -1), math.NaN()
+	return []api.Span{
+		{}, {Lo: 0, Hi: below}, {Lo: -1, Hi: 2}, {Lo: math.Inf(-1), Hi: -0.1}, {Lo: 0.1, Hi: math.Inf(1)}, {Lo: math.Inf(-1), Hi: math.Inf(1)}, {Lo: -math.SmallestNonzeroFloat64, Hi: below}, {Lo: -math.MaxFloat64, Hi: math.MaxFloat64},
+		{Lo: 2, Hi: 1}, {Lo: none, Hi: none}, {Lo: none, Hi: 1}, {Lo: math.Inf(1), Hi: math.Inf(1)}, {Lo: math.Inf(-1), Hi: math.Inf(-1)},
+	}
 }
 
 // someRats has numbers without a Den, not in lowest terms, and with noughts at the end of their lists.
