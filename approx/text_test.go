@@ -78,12 +78,12 @@ func TestP4_9ReadOfWrongTexts(t *testing.T) {
 
 func TestP4_9ReadAtItsLimit(t *testing.T) {
 	for _, s := range []string{"1" + strings.Repeat("0", 999), "-" + strings.Repeat("9", 999), "0." + strings.Repeat("3", 998), "1e" + strings.Repeat("0", 998), strings.Repeat("7", 500) + "." + strings.Repeat("7", 494) + "e-300"} {
-		s = s[:min(len(s), api.MaxPlaces)]
+		if len(s) != api.MaxPlaces {
+			t.Fatalf("%d bytes", len(s))
+		}
 		wantRead(t, s, readByOthers(s))
 		f, e := approx.Read(s + "0")
-		if len(s) == api.MaxPlaces {
-			wantFloat(t, "a byte too long", f, e, 0, api.ErrLong)
-		}
+		wantFloat(t, "a byte too long", f, e, 0, api.ErrLong)
 	}
 	for _, s := range []string{strings.Repeat("x", api.MaxPlaces), strings.Repeat("é", api.MaxPlaces/2)} {
 		wantWrong(t, s)
