@@ -12,6 +12,7 @@ import (
 
 	"fulcrum/api"
 	"fulcrum/approx"
+	"fulcrum/delta"
 	"fulcrum/ratio"
 	"fulcrum/whole"
 )
@@ -45,6 +46,9 @@ func numberFunctions() []listed {
 		{"approx.Next", approx.Next}, {"approx.Prev", approx.Prev}, {"approx.Mid", approx.Mid}, {"approx.Valid", approx.Valid}, {"approx.Around", approx.Around},
 		{"approx.In", approx.In}, {"approx.Sum", approx.Sum}, {"approx.Diff", approx.Diff}, {"approx.Prod", approx.Prod}, {"approx.Quot", approx.Quot},
 		{"approx.Read", approx.Read}, {"approx.Short", approx.Short},
+
+		{"delta.Norm", delta.Norm}, {"delta.Of", delta.Of}, {"delta.Sign", delta.Sign}, {"delta.Cmp", delta.Cmp}, {"delta.Neg", delta.Neg}, {"delta.Add", delta.Add},
+		{"delta.Sub", delta.Sub}, {"delta.Scale", delta.Scale}, {"delta.At", delta.At}, {"delta.Small", delta.Small}, {"delta.Text", delta.Text}, {"delta.Parse", delta.Parse},
 	}
 }
 
@@ -60,6 +64,7 @@ func arguments() drawn {
 	for _, s := range []string{
 		"", "0", "-", "-0", "7", "-18446744073709551616", "+1", "007", "\xff", "é", strings.Repeat("z", 300), strings.Repeat("1", 300), strings.Repeat("0", 300),
 		"6/4", "-0/1", "1/", "/1", "1/0", "-0.50", "1.", ".5", "1.5/2", "-0e7", "1e400", "-2E-0324", "1e+", "1e5001", strings.Repeat("1", api.MaxPlaces+1), strings.Repeat("1", 300) + "." + strings.Repeat("0", 300), "-1/" + strings.Repeat("2", 300),
+		"3-1d", "-1/2+1/3d", "0+2d", "d", "+1d", "3+1", "3-0d", "3+-1d", "3+2/4d", "3+1dd", "3+1d ", "3+\xffd", "-" + strings.Repeat("7", 300) + "-1/" + strings.Repeat("2", 300) + "d",
 	} {
 		add(s)
 	}
@@ -79,6 +84,12 @@ func arguments() drawn {
 	}
 	for _, s := range someSpans() {
 		add(s)
+	}
+	for _, d := range someDeltas() {
+		add(d)
+	}
+	for _, l := range someGaps() {
+		add(l)
 	}
 	return out
 }
@@ -110,6 +121,34 @@ func someRats() []api.Rat {
 		{Num: whole.Of(3), Den: api.Nat{1}}, {Num: below(short), Den: api.Nat{1, 0}}, {Num: whole.Of(415), Den: api.Nat{93}}, {Num: below(api.Nat{0, 0, 1}), Den: short},
 		{Num: api.Int{Abs: long}, Den: short}, {Num: below(long), Den: long}, {Num: below(long), Den: limbs[len(limbs)-2]}, {Num: whole.Of(1), Den: api.Nat{0, 0, 0, 1}},
 	}
+}
+
+// someDeltas has every one of someRats as its A and as its B, and some with the same A.
+func someDeltas() []api.Delta {
+	rats := someRats()
+	var out []api.Delta
+	for i, a := range rats {
+		out = append(out, api.Delta{A: a, B: rats[(i+5)%len(rats)]}, api.Delta{A: a, B: rats[(3*i+7)%len(rats)]})
+	}
+	return out
+}
+
+// someGaps has gaps in any order of their ends: some lists have some whose Lo is above the Hi, some have none.
+func someGaps() [][]api.Gap {
+	l := someDeltas()
+	var all, right []api.Gap
+	out := [][]api.Gap{nil, {}, {{}}}
+	for i, lo := range l {
+		g := api.Gap{Lo: lo, Hi: l[(5*i+3)%len(l)]}
+		all = append(all, g)
+		out = append(out, []api.Gap{g}, []api.Gap{{Lo: lo, Hi: lo}, g})
+		if delta.Cmp(g.Lo, g.Hi) > 0 {
+			g = api.Gap{Lo: g.Hi, Hi: g.Lo}
+		}
+		right = append(right, g)
+		out = append(out, []api.Gap{g})
+	}
+	return append(out, all, right, right[3:9])
 }
 
 // someLists has numbers of continued fractions, and some that are of none.
@@ -432,6 +471,14 @@ func otherwise(v reflect.Value) reflect.Value {
 			out = append(out, otherInt(a))
 		}
 		return reflect.ValueOf(out)
+	case api.Delta:
+		return reflect.ValueOf(otherDelta(x))
+	case []api.Gap:
+		var out []api.Gap
+		for _, g := range x {
+			out = append(out, api.Gap{Lo: otherDelta(g.Lo), Hi: otherDelta(g.Hi)})
+		}
+		return reflect.ValueOf(out)
 	}
 	return v
 }
@@ -453,6 +500,10 @@ func otherRat(r api.Rat) api.Rat {
 	}
 	six := whole.Of(6)
 	return api.Rat{Num: otherInt(whole.Mul(r.Num, six)), Den: otherNat(whole.Mul(api.Int{Abs: r.Den}, six).Abs)}
+}
+
+func otherDelta(d api.Delta) api.Delta {
+	return api.Delta{A: otherRat(d.A), B: otherRat(d.B)}
 }
 
 func isNought(a api.Nat) bool {
@@ -490,6 +541,8 @@ func isNormal(v reflect.Value) bool {
 	case api.Rat:
 		common := new(big.Int).GCD(nil, nil, bigOf(x.Num.Abs), bigOf(x.Den))
 		return isNormal(reflect.ValueOf(x.Num)) && isNormal(reflect.ValueOf(x.Den)) && len(x.Den) > 0 && common.Cmp(big.NewInt(1)) == 0
+	case api.Delta:
+		return isNormal(reflect.ValueOf(x.A)) && isNormal(reflect.ValueOf(x.B))
 	case []api.Int:
 		for _, a := range x {
 			if !isNormal(reflect.ValueOf(a)) {
