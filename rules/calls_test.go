@@ -13,6 +13,7 @@ import (
 	"fulcrum/api"
 	"fulcrum/approx"
 	"fulcrum/delta"
+	"fulcrum/linear"
 	"fulcrum/ratio"
 	"fulcrum/whole"
 )
@@ -49,6 +50,10 @@ func numberFunctions() []listed {
 
 		{"delta.Norm", delta.Norm}, {"delta.Of", delta.Of}, {"delta.Sign", delta.Sign}, {"delta.Cmp", delta.Cmp}, {"delta.Neg", delta.Neg}, {"delta.Add", delta.Add},
 		{"delta.Sub", delta.Sub}, {"delta.Scale", delta.Scale}, {"delta.At", delta.At}, {"delta.Small", delta.Small}, {"delta.Text", delta.Text}, {"delta.Parse", delta.Parse},
+
+		{"linear.Norm", linear.Norm}, {"linear.Add", linear.Add}, {"linear.Sub", linear.Sub}, {"linear.Scale", linear.Scale}, {"linear.Coef", linear.Coef}, {"linear.Vars", linear.Vars},
+		{"linear.Cmp", linear.Cmp}, {"linear.Value", linear.Value}, {"linear.Deltas", linear.Deltas}, {"linear.Subst", linear.Subst}, {"linear.Solve", linear.Solve},
+		{"linear.Combine", linear.Combine}, {"linear.Prime", linear.Prime}, {"linear.Rename", linear.Rename}, {"linear.Text", linear.Text}, {"linear.Parse", linear.Parse},
 	}
 }
 
@@ -65,6 +70,7 @@ func arguments() drawn {
 		"", "0", "-", "-0", "7", "-18446744073709551616", "+1", "007", "\xff", "é", strings.Repeat("z", 300), strings.Repeat("1", 300), strings.Repeat("0", 300),
 		"6/4", "-0/1", "1/", "/1", "1/0", "-0.50", "1.", ".5", "1.5/2", "-0e7", "1e400", "-2E-0324", "1e+", "1e5001", strings.Repeat("1", api.MaxPlaces+1), strings.Repeat("1", 300) + "." + strings.Repeat("0", 300), "-1/" + strings.Repeat("2", 300),
 		"3-1d", "-1/2+1/3d", "0+2d", "d", "+1d", "3+1", "3-0d", "3+-1d", "3+2/4d", "3+1dd", "3+1d ", "3+\xffd", "-" + strings.Repeat("7", 300) + "-1/" + strings.Repeat("2", 300) + "d",
+		"-1*x2+1/2*x10", "1*x-9223372036854775808+1*x9223372036854775807", "0*x1", "1*x", "*x1", "1*x1+", "1*x1+1*x1", "1*x2+1*x1", "2/4*x1", "1*x-0", "1*x9223372036854775808", "1*x\xff", strings.Repeat("1*x1+", 100), strings.Repeat("7", 300) + "*x1+-1/" + strings.Repeat("2", 300) + "*x2",
 	} {
 		add(s)
 	}
@@ -91,7 +97,49 @@ func arguments() drawn {
 	for _, l := range someGaps() {
 		add(l)
 	}
+	addForms(add)
 	return out
+}
+
+// addForms adds all that layer 6 is given: forms, affine ones, lists of weights, of values and of variables.
+func addForms(add func(v any)) {
+	rats, deltas, forms := someRats(), someDeltas(), someForms()
+	var weighted []api.Weighted
+	for i, f := range forms {
+		add(f)
+		of := api.Affine{Form: f, Const: rats[(5*i+7)%len(rats)]}
+		add(of)
+		weighted = append(weighted, api.Weighted{Of: of, Coef: rats[(3*i+6)%len(rats)]})
+		add(weighted[i:])
+	}
+	for _, l := range [][]api.Weighted{nil, {}, weighted[2:5], {weighted[4], weighted[4]}} {
+		add(l)
+	}
+	for _, l := range [][]api.Rat{nil, {}, rats[1:2], rats[5:6], rats[7:9], rats[3:8], rats} {
+		add(l)
+	}
+	for _, l := range [][]api.Delta{nil, {}, deltas[:1], deltas[11:12], deltas[9:13], deltas} {
+		add(l)
+	}
+	for _, l := range [][]int{nil, {}, {4}, {5, 5, 5, 5}, {3, 2, 1, 0}, {math.MaxInt, math.MinInt, -1, 0, 9}, {7, 7, 7, 1, 2, 7, 7}} {
+		add(l)
+	}
+}
+
+// someForms has forms in any order, with one variable in several parts, with parts that are 0 or cancel one another.
+func someForms() []api.Form {
+	rats := someRats()
+	at := func(v, i int) api.Mono { return api.Mono{Var: v, Coef: rats[i]} }
+	all := api.Form{}
+	for i := range rats {
+		all = append(all, at(i*i%7-1, i))
+	}
+	half, minus := rats[5], rats[6]
+	return []api.Form{
+		nil, {}, {at(0, 5)}, {at(0, 0)}, {at(1, 9)}, {at(1, 10)}, {at(3, 7), at(2, 8), at(0, 6)}, {at(0, 8), at(1, 9), at(2, 11)},
+		{{Var: 2, Coef: half}, at(0, 7), {Var: 2, Coef: minus}}, {{Var: 1, Coef: half}, {Var: 1, Coef: minus}}, {at(1, 9), at(1, 9), at(3, 10)},
+		{at(math.MaxInt, 5), at(math.MinInt, 11), at(-1, 9)}, {at(1, 1), at(-1, 2), at(9, 3)}, {at(2, 13), at(0, 15)}, {at(-5, 14), at(3, 16), at(-5, 9)}, all,
+	}
 }
 
 func someFloats() []float64 {
@@ -283,6 +331,8 @@ func mark(v reflect.Value) {
 	switch {
 	case v.CanUint():
 		v.SetUint(0xdeadbeef)
+	case v.CanInt():
+		v.SetInt(0x5eadbeef)
 	case v.Kind() == reflect.Bool:
 		v.SetBool(true)
 	case v.Kind() == reflect.Slice:
@@ -295,7 +345,7 @@ func mark(v reflect.Value) {
 	}
 }
 
-// room is the memory of a list, its spare room too.
+// room is the memory of a list, its spare room too, and of what still stands there.
 type room struct{ from, to uintptr }
 
 func rooms(l []reflect.Value) []room {
@@ -303,6 +353,7 @@ func rooms(l []reflect.Value) []room {
 	for _, v := range l {
 		if v.Kind() == reflect.Slice && v.Cap() > 0 {
 			out = append(out, room{v.Pointer(), v.Pointer() + uintptr(v.Cap())*v.Type().Elem().Size()})
+			v = v.Slice(0, v.Cap())
 		}
 		out = append(out, rooms(parts(v))...)
 	}
@@ -479,8 +530,44 @@ func otherwise(v reflect.Value) reflect.Value {
 			out = append(out, api.Gap{Lo: otherDelta(g.Lo), Hi: otherDelta(g.Hi)})
 		}
 		return reflect.ValueOf(out)
+	case api.Form:
+		return reflect.ValueOf(otherForm(x))
+	case api.Affine:
+		return reflect.ValueOf(otherAffine(x))
+	case []api.Weighted:
+		var out []api.Weighted
+		for _, w := range x {
+			out = append(out, api.Weighted{Of: otherAffine(w.Of), Coef: otherRat(w.Coef)})
+		}
+		return reflect.ValueOf(out)
+	case []api.Rat:
+		var out []api.Rat
+		for _, r := range x {
+			out = append(out, otherRat(r))
+		}
+		return reflect.ValueOf(out)
+	case []api.Delta:
+		var out []api.Delta
+		for _, d := range x {
+			out = append(out, otherDelta(d))
+		}
+		return reflect.ValueOf(out)
 	}
 	return v
+}
+
+// otherForm has its parts the other way round, two more that cancel one another and one that is 0.
+func otherForm(f api.Form) api.Form {
+	one := ratio.Whole(1)
+	out := api.Form{{Var: 77, Coef: one}, {Var: -77}}
+	for i := len(f) - 1; i >= 0; i-- {
+		out = append(out, api.Mono{Var: f[i].Var, Coef: otherRat(f[i].Coef)})
+	}
+	return append(out, api.Mono{Var: 77, Coef: ratio.Neg(one)})
+}
+
+func otherAffine(f api.Affine) api.Affine {
+	return api.Affine{Form: otherForm(f.Form), Const: otherRat(f.Const)}
 }
 
 func otherNat(a api.Nat) api.Nat {
@@ -549,6 +636,14 @@ func isNormal(v reflect.Value) bool {
 				return false
 			}
 		}
+	case api.Form:
+		for i, part := range x {
+			if !isNormal(reflect.ValueOf(part.Coef)) || bigOf(part.Coef.Num.Abs).Sign() == 0 || i > 0 && x[i-1].Var >= part.Var {
+				return false
+			}
+		}
+	case api.Affine:
+		return isNormal(reflect.ValueOf(x.Form)) && isNormal(reflect.ValueOf(x.Const))
 	}
 	return true
 }
