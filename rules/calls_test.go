@@ -15,6 +15,7 @@ import (
 	"fulcrum/delta"
 	"fulcrum/linear"
 	"fulcrum/ratio"
+	"fulcrum/tableau"
 	"fulcrum/whole"
 )
 
@@ -54,6 +55,10 @@ func numberFunctions() []listed {
 		{"linear.Norm", linear.Norm}, {"linear.Add", linear.Add}, {"linear.Sub", linear.Sub}, {"linear.Scale", linear.Scale}, {"linear.Coef", linear.Coef}, {"linear.Vars", linear.Vars},
 		{"linear.Cmp", linear.Cmp}, {"linear.Value", linear.Value}, {"linear.Deltas", linear.Deltas}, {"linear.Subst", linear.Subst}, {"linear.Solve", linear.Solve},
 		{"linear.Combine", linear.Combine}, {"linear.Prime", linear.Prime}, {"linear.Rename", linear.Rename}, {"linear.Text", linear.Text}, {"linear.Parse", linear.Parse},
+
+		{"tableau.New", tableau.New}, {"tableau.Check", tableau.Check}, {"tableau.Norm", tableau.Norm}, {"tableau.Grow", tableau.Grow}, {"tableau.Define", tableau.Define},
+		{"tableau.Row", tableau.Row}, {"tableau.Basics", tableau.Basics}, {"tableau.Others", tableau.Others}, {"tableau.Column", tableau.Column}, {"tableau.Express", tableau.Express},
+		{"tableau.Pivot", tableau.Pivot}, {"tableau.Extend", tableau.Extend}, {"tableau.Holds", tableau.Holds}, {"tableau.Same", tableau.Same},
 	}
 }
 
@@ -98,6 +103,9 @@ func arguments() drawn {
 		add(l)
 	}
 	addForms(add)
+	for _, t := range someTableaus() {
+		add(t)
+	}
 	return out
 }
 
@@ -139,6 +147,23 @@ func someForms() []api.Form {
 		nil, {}, {at(0, 5)}, {at(0, 0)}, {at(1, 9)}, {at(1, 10)}, {at(3, 7), at(2, 8), at(0, 6)}, {at(0, 8), at(1, 9), at(2, 11)},
 		{{Var: 2, Coef: half}, at(0, 7), {Var: 2, Coef: minus}}, {{Var: 1, Coef: half}, {Var: 1, Coef: minus}}, {at(1, 9), at(1, 9), at(3, 10)},
 		{at(math.MaxInt, 5), at(math.MinInt, 11), at(-1, 9)}, {at(1, 1), at(-1, 2), at(9, 3)}, {at(2, 13), at(0, 15)}, {at(-5, 14), at(3, 16), at(-5, 9)}, all,
+	}
+}
+
+// someTableaus has some that may not be too. Of those that may be some have as many variables as there are values in one of the lists of addForms.
+func someTableaus() []api.Tableau {
+	rats := someRats()
+	at := func(v, i int) api.Mono { return api.Mono{Var: v, Coef: rats[i]} }
+	row := func(basic int, parts ...api.Mono) api.Row { return api.Row{Basic: basic, Form: parts} }
+	sum, part := row(2, at(1, 9), at(0, 7), at(2, 1), at(0, 11)), row(3, at(0, 8), at(9, 5), at(1, 15), at(9, 6))
+	all := row(33)
+	for i := range rats {
+		all.Form = append(all.Form, at(2*i, i), at(i, i))
+	}
+	return []api.Tableau{
+		{}, {Rows: []api.Row{}}, {Vars: 1, Rows: []api.Row{row(0)}}, {Vars: 4}, {Vars: 4, Rows: []api.Row{part, sum}}, {Vars: 4, Rows: []api.Row{row(1, at(0, 16)), row(3, at(0, 9)), row(2)}},
+		{Vars: 4, Rows: []api.Row{row(0, at(3, 10), at(2, 14)), row(1, at(2, 13), at(3, 12))}}, {Vars: 34, Rows: []api.Row{all, row(31, at(3, 5), at(1, 7), at(0, 8))}}, {Vars: api.MaxVars, Rows: []api.Row{sum}},
+		{Vars: -1}, {Vars: api.MaxVars + 1}, {Vars: 4, Rows: []api.Row{sum, row(0)}}, {Vars: 4, Rows: []api.Row{sum, sum}}, {Vars: 4, Rows: []api.Row{row(2, at(4, 9))}}, {Vars: 2, Rows: []api.Row{sum}},
 	}
 }
 
@@ -540,6 +565,8 @@ func otherwise(v reflect.Value) reflect.Value {
 			out = append(out, api.Weighted{Of: otherAffine(w.Of), Coef: otherRat(w.Coef)})
 		}
 		return reflect.ValueOf(out)
+	case api.Tableau:
+		return reflect.ValueOf(otherTableau(x))
 	case []api.Rat:
 		var out []api.Rat
 		for _, r := range x {
@@ -568,6 +595,15 @@ func otherForm(f api.Form) api.Form {
 
 func otherAffine(f api.Affine) api.Affine {
 	return api.Affine{Form: otherForm(f.Form), Const: otherRat(f.Const)}
+}
+
+// otherTableau has its rows the other way round.
+func otherTableau(t api.Tableau) api.Tableau {
+	out := api.Tableau{Vars: t.Vars}
+	for i := len(t.Rows) - 1; i >= 0; i-- {
+		out.Rows = append(out.Rows, api.Row{Basic: t.Rows[i].Basic, Form: otherForm(t.Rows[i].Form)})
+	}
+	return out
 }
 
 func otherNat(a api.Nat) api.Nat {
@@ -644,6 +680,18 @@ func isNormal(v reflect.Value) bool {
 		}
 	case api.Affine:
 		return isNormal(reflect.ValueOf(x.Form)) && isNormal(reflect.ValueOf(x.Const))
+	case []api.Delta:
+		for _, d := range x {
+			if !isNormal(reflect.ValueOf(d)) {
+				return false
+			}
+		}
+	case api.Tableau:
+		for i, row := range x.Rows {
+			if !isNormal(reflect.ValueOf(row.Form)) || i > 0 && x.Rows[i-1].Basic >= row.Basic {
+				return false
+			}
+		}
 	}
 	return true
 }
