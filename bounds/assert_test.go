@@ -112,7 +112,7 @@ func wantMoves(t *testing.T, s *bounds.Store, m *model, lower, upper []api.Delta
 	}
 }
 
-// Kept is asked for ahead of Clash: with both bounds alike no number is both, but a lower bound that is kept asks nothing of the upper one.
+// With both bounds alike: what is just at them is kept, and what is beyond one of them clashes, be it by the delta's part alone.
 func TestP83FixedVariable(t *testing.T) {
 	s, m := newStore(t, 1), newModel(1)
 	lift(t, s, 0, plain("2"), 3)

@@ -91,7 +91,6 @@ func TestP85Fits(t *testing.T) {
 	} {
 		wantInt(t, "Fits", s.Fits(c.vals), c.want)
 	}
-	wantErr(t, "Back", s.Back(0), api.OK)
 	wantInt(t, "Fits", newStore(t, 0).Fits([]api.Delta{one}), -1)
 	wantInt(t, "Fits", newStore(t, 2).Fits([]api.Delta{one}), -1)
 }
