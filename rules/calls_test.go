@@ -6,6 +6,7 @@ import (
 	"math"
 	"math/big"
 	"reflect"
+	"slices"
 	"strings"
 	"sync"
 	"testing"
@@ -13,13 +14,14 @@ import (
 	"fulcrum/api"
 	"fulcrum/approx"
 	"fulcrum/delta"
+	"fulcrum/implied"
 	"fulcrum/linear"
 	"fulcrum/ratio"
 	"fulcrum/tableau"
 	"fulcrum/whole"
 )
 
-// The rules R1, R3 and R4 for the layers that are functions on plain numbers. Each function is called with all that its arguments' types may be drawn from; what it was given and what it answers is gone through by reflection, so that a new layer adds no more than a list of its functions.
+// The rules R1 to R4 for the layers that are functions on plain data. Each function is called with all that its arguments' types may be drawn from; what it was given and what it answers is gone through by reflection, so that a new layer adds no more than a list of its functions.
 
 // listed is one of the functions that a chapter lists.
 type listed struct {
@@ -59,6 +61,8 @@ func numberFunctions() []listed {
 		{"tableau.New", tableau.New}, {"tableau.Check", tableau.Check}, {"tableau.Norm", tableau.Norm}, {"tableau.Grow", tableau.Grow}, {"tableau.Define", tableau.Define},
 		{"tableau.Row", tableau.Row}, {"tableau.Basics", tableau.Basics}, {"tableau.Others", tableau.Others}, {"tableau.Column", tableau.Column}, {"tableau.Express", tableau.Express},
 		{"tableau.Pivot", tableau.Pivot}, {"tableau.Extend", tableau.Extend}, {"tableau.Holds", tableau.Holds}, {"tableau.Same", tableau.Same},
+
+		{"implied.Row", implied.Row}, {"implied.Tighter", implied.Tighter}, {"implied.All", implied.All}, {"implied.Check", implied.Check}, {"implied.Relate", implied.Relate}, {"implied.Lemmas", implied.Lemmas},
 	}
 }
 
@@ -106,6 +110,8 @@ func arguments() drawn {
 	for _, t := range someTableaus() {
 		add(t)
 	}
+	addBounds(add)
+	addAtoms(add)
 	return out
 }
 
@@ -130,6 +136,64 @@ func addForms(add func(v any)) {
 		add(l)
 	}
 	for _, l := range [][]int{nil, {}, {4}, {5, 5, 5, 5}, {3, 2, 1, 0}, {math.MaxInt, math.MinInt, -1, 0, 9}, {7, 7, 7, 1, 2, 7, 7}} {
+		add(l)
+	}
+}
+
+// addBounds adds all that layer 10 is given of rows: rows, lists of limits, and implied bounds, those that follow from these and some that do not.
+func addBounds(add func(v any)) {
+	rows := someRows()
+	for _, r := range rows {
+		add(r)
+	}
+	all := someLimits()
+	for _, l := range [][]api.Limit{nil, {}, all[:1], all[3:5], all} {
+		add(l)
+	}
+	add(api.Implied{})
+	for _, i := range implied.Row(rows[0], all) {
+		add(i)
+	}
+	i := implied.Row(rows[2], all)[1]
+	add(i)
+	add(api.Implied{Var: i.Var, Upper: !i.Upper, At: i.At, By: i.By})
+	add(api.Implied{Var: -5, At: i.At, By: i.By[1:]})
+}
+
+// someRows has Basic in the Form, parts that fall away, and variables that have no place.
+func someRows() []api.Row {
+	rats := someRats()
+	at := func(v, i int) api.Mono { return api.Mono{Var: v, Coef: rats[i]} }
+	return []api.Row{
+		{Basic: 2, Form: api.Form{at(1, 9), at(0, 7), at(2, 1), at(0, 11)}}, {Basic: 1}, {Basic: 3, Form: api.Form{at(3, 8), at(0, 5), at(1, 15), at(3, 13)}},
+		{Basic: 0, Form: api.Form{{Coef: ratio.Whole(1)}}}, {Basic: math.MinInt, Form: api.Form{at(math.MaxInt, 5)}}, {Basic: -1, Form: api.Form{at(2, 10), at(4, 12), at(2, 9)}},
+	}
+}
+
+// someLimits has places with both bounds, with one, with none; those that are none have other fields all the same.
+func someLimits() []api.Limit {
+	deltas := someDeltas()
+	var out []api.Limit
+	for i := range 7 {
+		out = append(out, api.Limit{
+			Lower: api.Bound{Has: i%4 != 3, At: deltas[(7*i+11)%len(deltas)], Why: i - 2},
+			Upper: api.Bound{Has: i%3 != 2, At: deltas[(5*i+17)%len(deltas)], Why: i * i},
+		})
+	}
+	return out
+}
+
+// addAtoms adds atoms with and without a Name, of one line and of several, and lists of them.
+func addAtoms(add func(v any)) {
+	rats, forms := someRats(), someForms()
+	all := []api.Atom{{}, {Name: "p"}, {Name: "p", Form: forms[2], Bound: rats[5], Strict: true}, {Name: "\xff"}}
+	for i, f := range forms {
+		all = append(all, api.Atom{Form: f, Bound: rats[(3*i+5)%len(rats)], Strict: i%3 == 0})
+	}
+	for _, a := range all {
+		add(a)
+	}
+	for _, l := range [][]api.Atom{nil, {}, all[:1], all[5:7], {all[1], all[4], all[2], all[1]}, all} {
 		add(l)
 	}
 }
@@ -360,6 +424,8 @@ func mark(v reflect.Value) {
 		v.SetInt(0x5eadbeef)
 	case v.Kind() == reflect.Bool:
 		v.SetBool(true)
+	case v.Kind() == reflect.String:
+		v.SetString("behind")
 	case v.Kind() == reflect.Slice:
 		v.Set(reflect.MakeSlice(v.Type(), 1, 1))
 		mark(v.Index(0))
@@ -567,6 +633,24 @@ func otherwise(v reflect.Value) reflect.Value {
 		return reflect.ValueOf(out)
 	case api.Tableau:
 		return reflect.ValueOf(otherTableau(x))
+	case api.Row:
+		return reflect.ValueOf(api.Row{Basic: x.Basic, Form: otherForm(x.Form)})
+	case []api.Limit:
+		var out []api.Limit
+		for _, l := range x {
+			out = append(out, api.Limit{Lower: otherBound(l.Lower), Upper: otherBound(l.Upper)})
+		}
+		return reflect.ValueOf(append(out, api.Limit{}))
+	case api.Implied:
+		return reflect.ValueOf(otherImplied(x))
+	case api.Atom:
+		return reflect.ValueOf(otherAtom(x))
+	case []api.Atom:
+		var out []api.Atom
+		for _, a := range x {
+			out = append(out, otherAtom(a))
+		}
+		return reflect.ValueOf(out)
 	case []api.Rat:
 		var out []api.Rat
 		for _, r := range x {
@@ -604,6 +688,30 @@ func otherTableau(t api.Tableau) api.Tableau {
 		out.Rows = append(out.Rows, api.Row{Basic: t.Rows[i].Basic, Form: otherForm(t.Rows[i].Form)})
 	}
 	return out
+}
+
+// otherBound has other fields, if it is none.
+func otherBound(b api.Bound) api.Bound {
+	if !b.Has {
+		return api.Bound{At: delta.Neg(b.At), Why: b.Why + 1}
+	}
+	return api.Bound{Has: true, At: otherDelta(b.At), Why: b.Why}
+}
+
+func otherImplied(i api.Implied) api.Implied {
+	out := api.Implied{Var: i.Var, Upper: i.Upper, At: otherDelta(i.At)}
+	for _, m := range i.By {
+		out.By = append(out.By, api.Multiplier{Why: m.Why, Coef: otherRat(m.Coef)})
+	}
+	return out
+}
+
+// otherAtom has another form, if it has a Name.
+func otherAtom(a api.Atom) api.Atom {
+	if a.Name != "" {
+		return api.Atom{Name: a.Name, Form: append(otherForm(a.Form), api.Mono{Var: 7, Coef: ratio.Whole(1)}), Bound: ratio.Neg(a.Bound), Strict: !a.Strict}
+	}
+	return api.Atom{Form: otherForm(a.Form), Bound: otherRat(a.Bound), Strict: a.Strict}
 }
 
 func otherNat(a api.Nat) api.Nat {
@@ -683,6 +791,12 @@ func isNormal(v reflect.Value) bool {
 	case []api.Delta:
 		for _, d := range x {
 			if !isNormal(reflect.ValueOf(d)) {
+				return false
+			}
+		}
+	case []api.Implied:
+		for _, i := range x {
+			if !isNormal(reflect.ValueOf(i.At)) || slices.ContainsFunc(i.By, func(m api.Multiplier) bool { return !isNormal(reflect.ValueOf(m.Coef)) }) {
 				return false
 			}
 		}
