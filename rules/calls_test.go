@@ -16,12 +16,14 @@ import (
 	"fulcrum/delta"
 	"fulcrum/implied"
 	"fulcrum/linear"
+	"fulcrum/optimum"
 	"fulcrum/ratio"
+	"fulcrum/simplex"
 	"fulcrum/tableau"
 	"fulcrum/whole"
 )
 
-// The rules R1 to R4 for the layers that are functions on plain data. Each function is called with all that its arguments' types may be drawn from; what it was given and what it answers is gone through by reflection, so that a new layer adds no more than a list of its functions.
+// The rules R1 to R4 for the layers that are functions on plain data; those of layer 11 are handed a simplex too, which they leave as it is. Each function is called with all that its arguments' types may be drawn from; what it was given and what it answers is gone through by reflection, so that a new layer adds no more than a list of its functions.
 
 // listed is one of the functions that a chapter lists.
 type listed struct {
@@ -63,6 +65,8 @@ func numberFunctions() []listed {
 		{"tableau.Pivot", tableau.Pivot}, {"tableau.Extend", tableau.Extend}, {"tableau.Holds", tableau.Holds}, {"tableau.Same", tableau.Same},
 
 		{"implied.Row", implied.Row}, {"implied.Tighter", implied.Tighter}, {"implied.All", implied.All}, {"implied.Check", implied.Check}, {"implied.Relate", implied.Relate}, {"implied.Lemmas", implied.Lemmas},
+
+		{"optimum.Greatest", optimum.Greatest}, {"optimum.Least", optimum.Least}, {"optimum.Proves", optimum.Proves},
 	}
 }
 
@@ -112,6 +116,12 @@ func arguments() drawn {
 	}
 	addBounds(add)
 	addAtoms(add)
+	for _, x := range someSimplexes() {
+		add(x)
+	}
+	for _, l := range someDuals() {
+		add(l)
+	}
 	return out
 }
 
@@ -196,6 +206,40 @@ func addAtoms(add func(v any)) {
 	for _, l := range [][]api.Atom{nil, {}, all[:1], all[5:7], {all[1], all[4], all[2], all[1]}, all} {
 		add(l)
 	}
+}
+
+// someSimplexes has one without variables, one in which some forms have an end, one in which all have, and one whose bounds clash.
+func someSimplexes() []*simplex.Simplex {
+	out := []*simplex.Simplex{simplex.New()}
+	for _, bounds := range []int{2, 4, 13} {
+		s := simplex.New()
+		for range 4 {
+			s.Var()
+		}
+		for _, f := range someForms() {
+			s.Define(f) // where there are all its variables
+		}
+		for v := range bounds {
+			l := someLimits()[v%7]
+			s.Press(v, l.Upper.At, v)
+			if _, e := s.Lift(v, l.Lower.At, v); e != api.OK {
+				s.Lift(v, l.Upper.At, v)
+			}
+		}
+		out = append(out, s)
+	}
+	return out
+}
+
+// someDuals has two that prove something in one of someSimplexes, and some that can't be.
+func someDuals() [][]api.Multiplier {
+	rats := someRats()
+	out := [][]api.Multiplier{nil, {{Why: 1, Coef: rats[0]}}, {{Why: 3, Coef: rats[9]}, {Why: 0, Coef: rats[6]}}, {{Why: -1, Coef: rats[5]}}}
+	for _, i := range []int{4, 7} {
+		o, _ := optimum.Greatest(someSimplexes()[2], api.Affine{Form: someForms()[i]})
+		out = append(out, o.Dual)
+	}
+	return out
 }
 
 // someForms has forms in any order, with one variable in several parts, with parts that are 0 or cancel one another.
@@ -643,6 +687,8 @@ func otherwise(v reflect.Value) reflect.Value {
 		return reflect.ValueOf(append(out, api.Limit{}))
 	case api.Implied:
 		return reflect.ValueOf(otherImplied(x))
+	case []api.Multiplier:
+		return reflect.ValueOf(otherMultipliers(x))
 	case api.Atom:
 		return reflect.ValueOf(otherAtom(x))
 	case []api.Atom:
@@ -699,9 +745,13 @@ func otherBound(b api.Bound) api.Bound {
 }
 
 func otherImplied(i api.Implied) api.Implied {
-	out := api.Implied{Var: i.Var, Upper: i.Upper, At: otherDelta(i.At)}
-	for _, m := range i.By {
-		out.By = append(out.By, api.Multiplier{Why: m.Why, Coef: otherRat(m.Coef)})
+	return api.Implied{Var: i.Var, Upper: i.Upper, At: otherDelta(i.At), By: otherMultipliers(i.By)}
+}
+
+func otherMultipliers(l []api.Multiplier) []api.Multiplier {
+	var out []api.Multiplier
+	for _, m := range l {
+		out = append(out, api.Multiplier{Why: m.Why, Coef: otherRat(m.Coef)})
 	}
 	return out
 }
@@ -796,10 +846,15 @@ func isNormal(v reflect.Value) bool {
 		}
 	case []api.Implied:
 		for _, i := range x {
-			if !isNormal(reflect.ValueOf(i.At)) || slices.ContainsFunc(i.By, func(m api.Multiplier) bool { return !isNormal(reflect.ValueOf(m.Coef)) }) {
+			if !isNormal(reflect.ValueOf(i.At)) || !isNormal(reflect.ValueOf(i.By)) {
 				return false
 			}
 		}
+	case []api.Multiplier:
+		return !slices.ContainsFunc(x, func(m api.Multiplier) bool { return !isNormal(reflect.ValueOf(m.Coef)) })
+	case api.Optimum:
+		hasValue := x.Kind != api.OptUnbounded // else there is no number
+		return isNormal(reflect.ValueOf(x.Values)) && isNormal(reflect.ValueOf(x.Dual)) && (!hasValue || isNormal(reflect.ValueOf(x.Value)))
 	case api.Tableau:
 		for i, row := range x.Rows {
 			if !isNormal(reflect.ValueOf(row.Form)) || i > 0 && x.Rows[i-1].Basic >= row.Basic {
