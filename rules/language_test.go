@@ -31,7 +31,7 @@ var layers = []layer{
 	{"nat", nil}, {"whole", []int{1}}, {"ratio", []int{1, 2}}, {"approx", []int{1, 2, 3}}, {"delta", []int{3}},
 	{"linear", []int{3, 5}}, {"tableau", []int{3, 5, 6}}, {"bounds", []int{3, 5}}, {"simplex", []int{3, 5, 6, 7, 8}},
 	{"implied", []int{3, 5, 6, 7, 8}}, {"optimum", []int{3, 5, 6, 7, 8, 9}}, {"tokens", nil}, {"sexpr", []int{12}},
-	{"terms", []int{3, 13}}, {"meaning", []int{3, 14}}, {"simplify", []int{3, 6, 14, 15}}, {"atoms", []int{3, 5, 6}},
+	{"terms", []int{3, 12, 13}}, {"meaning", []int{3, 14}}, {"simplify", []int{3, 6, 14, 15}}, {"atoms", []int{3, 5, 6}},
 	{"clauses", []int{14, 16, 17}}, {"heap", nil}, {"units", nil}, {"analyse", nil}, {"search", []int{19, 20, 21}},
 	{"theory", []int{3, 5, 6, 8, 9, 10, 17, 22}}, {"proof", []int{3, 6, 17}}, {"checker", []int{3, 6, 17, 24}},
 	{"interpolant", []int{3, 6, 14, 17, 24, 25}}, {"session", below(27)}, {"console", below(28)},
@@ -109,6 +109,26 @@ func wantBelow(t *testing.T, s source, callee string) {
 	from, to := number(s.pack), number(callee)
 	if s.pack == "api" || from > 0 && to > 0 && !slices.Contains(layers[from-1].calls, to) {
 		t.Errorf("%s calls %s, which the map does not say", s.path, callee)
+	}
+}
+
+// TestTermsTakesTwoOfTokens: the map has layer 14 call 3 and 13; its chapter lets it take these two of 12.
+func TestTermsTakesTwoOfTokens(t *testing.T) {
+	for _, s := range sources(t) {
+		if s.pack != "terms" {
+			continue
+		}
+		ast.Inspect(s.file, func(n ast.Node) bool {
+			x, ok := n.(*ast.SelectorExpr)
+			if !ok {
+				return true
+			}
+			of, ok := x.X.(*ast.Ident)
+			if ok && of.Name == "tokens" && x.Sel.Name != "Reserved" && x.Sel.Name != "Symbol" {
+				t.Errorf("%s takes tokens.%s", s.path, x.Sel.Name)
+			}
+			return true
+		})
 	}
 }
 
