@@ -45,7 +45,7 @@ func (b *Bank) mayDefine(name string, params []api.Param, sort int) api.Errno {
 
 // compile is a macro of a body.
 func (b *Bank) compile(params []api.Param, sort int, body *api.Node) (*macro, fault) {
-	rec := &recorder{sketch: newSketch(b)}
+	rec := &recorder{sketch: newSketch(b), trace: newTrace(params)}
 	r := reader{bank: b, maker: rec, scope: newScope(), isBody: true}
 	m := &macro{place: len(b.things)}
 	for i, p := range params {
@@ -60,6 +60,6 @@ func (b *Bank) compile(params []api.Param, sort int, body *api.Node) (*macro, fa
 	if rec.sort(v) != sort {
 		return nil, fault{api.ErrSort, body}
 	}
-	m.steps, m.says, m.opaque = rec.steps, v, rec.sketch.outcome(rec.values[v])
+	m.steps, m.says, m.opaque, m.course = rec.steps, v, rec.sketch.outcome(rec.values[v]), rec.trace.course(v)
 	return m, fault{}
 }

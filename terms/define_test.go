@@ -64,6 +64,7 @@ func TestB3WrongBodies(t *testing.T) {
 		{"(ite c (g a b) (g c))", api.ErrArity, "(g a b)"}, {"g", api.ErrArity, "g"}, {"(* (g a) (g b))", api.ErrLinear, "(* (g a) (g b))"}, {"(/ 1 (g 0))", api.ErrDivide, "(/ 1 (g 0))"}, {"(let ((a 1) (a 2)) a)", api.ErrDeclared, "a"},
 		{"(! a :named n)", api.ErrSyntax, "(! a :named n)"}, {"(!)", api.ErrSyntax, "(!)"}, {"(! nobody)", api.ErrSyntax, "(! nobody)"}, {"(+ a (ite c b (! a :named n)))", api.ErrSyntax, "(! a :named n)"}, {"(+ nobody (! a :named n))", api.ErrUnknown, "nobody"},
 		{"(let ((z (! a :named n))) z)", api.ErrSyntax, "(! a :named n)"}, {"(let ((z (! a :named n)) (and 1)) z)", api.ErrSyntax, "(! a :named n)"}, {"(let ((z 1)) (! z :named n))", api.ErrSyntax, "(! z :named n)"}, {"(let ((z (! a :named n)) w) z)", api.ErrSyntax, "(let ((z (! a :named n)) w) z)"}, {"()", api.ErrSyntax, "()"}, {"\"a\"", api.ErrSyntax, "\"a\""},
+		{"(+)", api.ErrArity, "(+)"}, {"(-)", api.ErrArity, "(-)"}, {"(*)", api.ErrArity, "(*)"}, {"(/)", api.ErrArity, "(/)"}, {"(+ a)", api.ErrArity, "(+ a)"}, {"(* a)", api.ErrArity, "(* a)"}, {"(/ a)", api.ErrArity, "(/ a)"}, {"(ite c a)", api.ErrArity, "(ite c a)"}, {"(g)", api.ErrArity, "(g)"},
 	} {
 		wantNotDefined(t, b, "f", params("aR", "bR", "cB"), api.SortReal, node(c.body), c.err, c.part)
 	}

@@ -119,7 +119,7 @@ func reckon(r api.Rat, l []api.Rat, by func(a, b api.Rat) api.Rat) (api.Rat, api
 }
 
 func isLong(r api.Rat) bool {
-	return len(r.Num.Abs) > api.MaxLimbs || len(r.Den) > api.MaxLimbs
+	return limbs(r) > api.MaxLimbs
 }
 
 func toNumber(r api.Rat, e api.Errno) (outcome, api.Errno) {

@@ -9,6 +9,7 @@ type macro struct {
 	steps  []step
 	says   int     // the value that the body has: values are the parameters, and behind them one for each step
 	opaque outcome // what it says where no parameter is a number
+	course *course // what it says where some are; nil: that is not known
 }
 
 // step is one part of a body: what a word or a macro says of values ahead of it, a leaf, or a term that was there when the macro was defined.

@@ -81,12 +81,33 @@ func (s *sketch) join(w word, kids []int) (int, api.Errno) {
 	return s.value(out), e
 }
 
-// known is told at once where no parameter is a number: all such values are alike.
+// known is told at once where no parameter is a number, as all such values are alike; and by the macro's course.
 func (s *sketch) known(m *macro, args []int) (int, bool) {
 	if !slices.ContainsFunc(args, func(v int) bool { return v >= firstNumber }) {
 		return s.value(m.opaque), true
 	}
-	return s.memory.known(m, args)
+	if v, ok := s.memory.known(m, args); ok || m.course == nil {
+		return v, ok
+	}
+	return s.foreseen(m, args)
+}
+
+// foreseen is what a macro says by its course, if no number on the way can be too long.
+func (s *sketch) foreseen(m *macro, args []int) (int, bool) {
+	lines := make([]*line, len(args))
+	for i, v := range args {
+		if r, ok := s.number(v); ok {
+			lines[i] = &line{alone: r}
+		}
+	}
+	said, way := m.course.of(lines)
+	if !way.alone.isShort() {
+		return 0, false
+	}
+	if said == nil {
+		return some(m.opaque.sort), true
+	}
+	return s.value(outcome{sort: api.SortReal, isNumber: true, number: said.alone}), true
 }
 
 // recorder makes steps of what is read. Its values are the places of parameters and steps; each is a value of the sketch, too, by which it is judged.
@@ -94,6 +115,7 @@ type recorder struct {
 	sketch *sketch
 	values []int
 	steps  []step
+	trace  trace
 }
 
 func (r *recorder) sort(v int) int {
@@ -102,26 +124,31 @@ func (r *recorder) sort(v int) int {
 
 func (r *recorder) leaf(l leaf) (int, api.Errno) {
 	v, e := r.sketch.leaf(l)
-	return r.record(step{leaf: l}, v), e
+	return r.record(step{leaf: l}, v, e)
 }
 
 func (r *recorder) constant(term int) int {
-	return r.record(step{term: term}, r.sketch.constant(term))
+	v, _ := r.record(step{term: term}, r.sketch.constant(term), api.OK)
+	return v
 }
 
 func (r *recorder) join(w word, kids []int) (int, api.Errno) {
 	v, e := r.sketch.join(w, picked(r.values, kids))
-	return r.record(step{word: w, kids: kids}, v), e
+	return r.record(step{word: w, kids: kids}, v, e)
 }
 
 func (r *recorder) call(m *macro, args []int) (int, api.Errno) {
 	v, e := carryOut(r.sketch, m, picked(r.values, args))
-	return r.record(step{macro: m, kids: args}, v), e
+	return r.record(step{macro: m, kids: args}, v, e)
 }
 
-// record is the place of a step's value. (With an error all that was recorded is given up.)
-func (r *recorder) record(s step, v int) int {
+// record is the place of the value of a step with which nothing is wrong.
+func (r *recorder) record(s step, v int, e api.Errno) (int, api.Errno) {
+	if e != api.OK {
+		return 0, e
+	}
 	r.steps = append(r.steps, s)
 	r.values = append(r.values, v)
-	return len(r.values) - 1
+	r.trace.follow(s, r.sketch.outcome(v))
+	return len(r.values) - 1, api.OK
 }
