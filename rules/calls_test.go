@@ -16,14 +16,16 @@ import (
 	"fulcrum/delta"
 	"fulcrum/implied"
 	"fulcrum/linear"
+	"fulcrum/meaning"
 	"fulcrum/optimum"
 	"fulcrum/ratio"
 	"fulcrum/simplex"
 	"fulcrum/tableau"
+	"fulcrum/terms"
 	"fulcrum/whole"
 )
 
-// The rules R1 to R4 for the layers that are functions on plain data; those of layer 11 are handed a simplex too, which they leave as it is. Each function is called with all that its arguments' types may be drawn from; what it was given and what it answers is gone through by reflection, so that a new layer adds no more than a list of its functions.
+// The rules R1 to R4 for the layers that are functions on plain data; those of layer 11 are handed a simplex too, those of layer 15 a bank of terms, which they leave as it is. Each function is called with all that its arguments' types may be drawn from; what it was given and what it answers is gone through by reflection, so that a new layer adds no more than a list of its functions.
 
 // listed is one of the functions that a chapter lists.
 type listed struct {
@@ -67,6 +69,8 @@ func numberFunctions() []listed {
 		{"implied.Row", implied.Row}, {"implied.Tighter", implied.Tighter}, {"implied.All", implied.All}, {"implied.Check", implied.Check}, {"implied.Relate", implied.Relate}, {"implied.Lemmas", implied.Lemmas},
 
 		{"optimum.Greatest", optimum.Greatest}, {"optimum.Least", optimum.Least}, {"optimum.Proves", optimum.Proves},
+
+		{"meaning.Eval", meaning.Eval}, {"meaning.Names", meaning.Names}, {"meaning.Holds", meaning.Holds}, {"meaning.Complete", meaning.Complete},
 	}
 }
 
@@ -120,6 +124,12 @@ func arguments() drawn {
 		add(x)
 	}
 	for _, l := range someDuals() {
+		add(l)
+	}
+	for _, b := range someBanks() {
+		add(b)
+	}
+	for _, l := range someBindings() {
 		add(l)
 	}
 	return out
@@ -240,6 +250,30 @@ func someDuals() [][]api.Multiplier {
 		out = append(out, o.Dual)
 	}
 	return out
+}
+
+// someBanks has two that nobody made, one without terms, and one whose terms 0 to 9 have some constants of both sorts.
+func someBanks() []*terms.Bank {
+	b := terms.New()
+	for i, name := range []string{"x", "p", "y", "q"} {
+		b.Declare(name, api.SortReal-i%2)
+	}
+	b.Stand(2)
+	for _, t := range []api.Term{
+		{Kind: api.TermAdd, Kids: []int{0, 2, 0}}, {Kind: api.TermScale, Number: someRats()[15], Kids: []int{5}}, {Kind: api.TermLess, Kids: []int{0, 4}}, {Kind: api.TermIte, Kids: []int{7, 6, 2}}, {Kind: api.TermDistinct, Kids: []int{8, 0, 6}},
+	} {
+		b.Add(t)
+	}
+	return []*terms.Bank{nil, {}, terms.New(), b}
+}
+
+// someBindings has values of all sorts and of none, in which what does not count is something too.
+func someBindings() [][]api.Binding {
+	var all []api.Binding
+	for i, r := range someRats() {
+		all = append(all, api.Binding{Name: []string{"x", "p", "y", "q", "\x002"}[i%5], Value: api.Value{Sort: []int{api.SortReal, api.SortBool, api.SortReal, api.SortBool, api.SortReal, 0, 7}[i%7], Bool: i%3 > 0, Real: r}})
+	}
+	return [][]api.Binding{nil, {}, all[:1], all[:5], all[7:12], {all[3], all[0], all[0], all[14], all[7]}, all[3:], all}
 }
 
 // someForms has forms in any order, with one variable in several parts, with parts that are 0 or cancel one another.
@@ -709,8 +743,26 @@ func otherwise(v reflect.Value) reflect.Value {
 			out = append(out, otherDelta(d))
 		}
 		return reflect.ValueOf(out)
+	case []api.Binding:
+		var out []api.Binding
+		for _, b := range x {
+			out = append(out, api.Binding{Name: b.Name, Value: otherValue(b.Value)})
+		}
+		return reflect.ValueOf(out)
 	}
 	return v
+}
+
+// otherValue has another truth, if it is none, and another number, if it is none.
+func otherValue(v api.Value) api.Value {
+	out := api.Value{Sort: v.Sort, Bool: !v.Bool, Real: ratio.Add(v.Real, ratio.Whole(1))}
+	switch v.Sort {
+	case api.SortBool:
+		out.Bool = v.Bool
+	case api.SortReal:
+		out.Real = otherRat(v.Real)
+	}
+	return out
 }
 
 // otherForm has its parts the other way round, two more that cancel one another and one that is 0.
@@ -852,6 +904,10 @@ func isNormal(v reflect.Value) bool {
 		}
 	case []api.Multiplier:
 		return !slices.ContainsFunc(x, func(m api.Multiplier) bool { return !isNormal(reflect.ValueOf(m.Coef)) })
+	case api.Value:
+		return isAnswer(x)
+	case []api.Binding:
+		return !slices.ContainsFunc(x, func(b api.Binding) bool { return !isNormal(reflect.ValueOf(b.Value)) })
 	case api.Optimum:
 		hasValue := x.Kind != api.OptUnbounded // else there is no number
 		return isNormal(reflect.ValueOf(x.Values)) && isNormal(reflect.ValueOf(x.Dual)) && (!hasValue || isNormal(reflect.ValueOf(x.Value)))
@@ -863,4 +919,16 @@ func isNormal(v reflect.Value) bool {
 		}
 	}
 	return true
+}
+
+// isAnswer tells whether a value is normal, and has nothing that does not count.
+func isAnswer(v api.Value) bool {
+	noNumber := !v.Real.Num.Neg && len(v.Real.Num.Abs) == 0 && len(v.Real.Den) == 0
+	switch v.Sort {
+	case api.SortBool:
+		return noNumber
+	case api.SortReal:
+		return !v.Bool && isNormal(reflect.ValueOf(v.Real))
+	}
+	return noNumber && !v.Bool
 }
