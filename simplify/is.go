@@ -13,20 +13,46 @@ func (p parts) isNormal(t int) bool {
 		return ok
 	}
 	for _, x := range p {
-		if !isReal(x) && !p.fits(x) { // what is of Real is looked at with the atom in which it stands
+		if !isReal(x) && !p.fits(x) { // what is of Real is looked at where it is compared
+			return false
+		}
+	}
+	return p.areShapes(p.compared())
+}
+
+// compared are the first kids of the comparisons, each once: many may share one whose shape takes long to look at.
+func (p parts) compared() map[int]struct{} {
+	out := map[int]struct{}{}
+	for _, t := range p {
+		if x, ok := t.(comparison); ok {
+			out[x.family[0]] = struct{}{}
+		}
+	}
+	return out
+}
+
+// areShapes tells whether terms of Real are those of forms as they stand first in atoms.
+func (p parts) areShapes(l map[int]struct{}) bool {
+	for t := range l {
+		f, ok := p.formOf(t)
+		if !ok || len(f.Form) == 0 || ratio.Sign(f.Const) != 0 {
+			return false
+		}
+		if _, often := linear.Prime(f.Form); !isOne(often) {
 			return false
 		}
 	}
 	return true
 }
 
-// fits tells whether a term of Bool is in normal form, if those of its kids are that are of Bool.
+// fits tells whether a term of Bool is in normal form, if those of its kids are that are of Bool, and what it compares is a shape.
 func (p parts) fits(t term) bool {
 	switch x := t.(type) {
 	case truth, constant:
 		return true
 	case comparison:
-		return p.isAtom(x)
+		_, at := p[x.family[1]].(number)
+		return at
 	case negation:
 		return p.mayBeNegated(x.family[0])
 	case connective:
@@ -37,15 +63,6 @@ func (p parts) fits(t term) bool {
 		return p.areOpen(x.family) && !p.isNegation(x.family[0]) && x.family[1] != x.family[2]
 	}
 	return false
-}
-
-func (p parts) isAtom(x comparison) bool {
-	f, ok := p.formOf(x.family[0])
-	if _, at := p[x.family[1]].(number); !ok || !at || len(f.Form) == 0 || ratio.Sign(f.Const) != 0 {
-		return false
-	}
-	_, often := linear.Prime(f.Form)
-	return isOne(often)
 }
 
 func (p parts) mayBeNegated(t int) bool {

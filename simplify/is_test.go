@@ -129,3 +129,29 @@ func TestM1IsDrawn(t *testing.T) {
 		}
 	}
 }
+
+// A form is looked at once, however many atoms it has: these numbers are so long that each look takes a while.
+func TestM1IsOfManyAtomsOfOneForm(t *testing.T) {
+	b := bank(t)
+	long := func(seed uint32) api.Rat {
+		limbs := make(api.Nat, 3000)
+		for i := range limbs {
+			seed = seed*1664525 + 1013904223
+			limbs[i] = seed | 1
+		}
+		return api.Rat{Num: api.Int{Abs: limbs}, Den: api.Nat{1}}
+	}
+	times := func(n api.Rat, kid int) int { return put(t, b, api.Term{Kind: api.TermScale, Number: n, Kids: []int{kid}}) }
+	shape := add(t, b, api.TermAdd, times(long(1), 0), times(long(7), 1))
+	other := add(t, b, api.TermAdd, times(long(1), 0), times(long(1), 1)) // no Prime's shape
+	var all []int
+	for i := range 8000 {
+		all = append(all, add(t, b, api.TermLess+i%2, shape, numbered(t, b, fmt.Sprint(i))))
+	}
+	is, e := simplify.Is(b, add(t, b, api.TermOr, all...))
+	wantErr(t, "Is", e, api.OK)
+	wantTruth(t, "Is", is, true)
+	is, e = simplify.Is(b, add(t, b, api.TermOr, append(all, add(t, b, api.TermLess, other, numbered(t, b, "1")))...))
+	wantErr(t, "Is", e, api.OK)
+	wantTruth(t, "Is, with another form", is, false)
+}
