@@ -308,3 +308,25 @@ func TestA1Longest(t *testing.T) {
 	twice[api.MaxTerms-1] = twice[1]
 	wantErr(t, "Check of MaxTerms atoms, the last one like the second", atoms.Check(twice), api.ErrAtom)
 }
+
+// Forms and bounds of long numbers are looked at once each, however many atoms have them; one that may not be is seen among others all the same.
+func TestA1LongNumbersInManyAtoms(t *testing.T) {
+	long := func(seed int64) *big.Int { // odd, of 3000 limbs
+		n := new(big.Int).Rand(rand.New(rand.NewSource(seed)), new(big.Int).Lsh(big.NewInt(1), 96000))
+		return n.SetBit(n, 0, 1)
+	}
+	whole := func(n *big.Int) api.Rat { return of(new(big.Rat).SetInt(n)) }
+	first, second := long(1), long(2)
+	shape := api.Form{{Var: 0, Coef: whole(first)}, {Var: 1, Coef: whole(second)}}
+	l, at := table(), of(new(big.Rat).SetFrac(first, second))
+	for i := range 3000 {
+		l = append(l, api.Atom{Form: shape, Bound: num(fmt.Sprint(i))}, api.Atom{Form: form("1", i), Bound: at})
+	}
+	wantErr(t, "Check", atoms.Check(l), api.OK)
+	three := big.NewInt(3)
+	common := api.Form{{Var: 0, Coef: whole(new(big.Int).Mul(first, three))}, {Var: 1, Coef: whole(new(big.Int).Mul(second, three))}}
+	wantErr(t, "Check with a divisor", atoms.Check(append(slices.Clone(l), api.Atom{Form: common, Bound: num("1")})), api.ErrAtom)
+	above := raw(false, limbs(new(big.Int).Mul(first, three)), limbs(new(big.Int).Mul(second, three)))
+	wantErr(t, "Check with a bound that is not normal", atoms.Check(append(slices.Clone(l), api.Atom{Form: form("2", 0, "1", 1), Bound: above})), api.ErrAtom)
+	wantErr(t, "Check with one twice", atoms.Check(append(slices.Clone(l), l[2000])), api.ErrAtom)
+}

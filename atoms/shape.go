@@ -4,6 +4,7 @@ import (
 	"slices"
 
 	"fulcrum/api"
+	"fulcrum/keys"
 	"fulcrum/linear"
 	"fulcrum/ratio"
 )
@@ -18,8 +19,8 @@ func isConstant(a api.Atom) bool {
 	return a.Name != "" && isBare(a)
 }
 
-func isInequality(a api.Atom) bool {
-	return a.Name == "" && isPrime(a.Form) && isNormal(a.Bound)
+func (l looker) isInequality(a api.Atom) bool {
+	return a.Name == "" && l.isPrime(a.Form) && l.isNormal(a.Bound)
 }
 
 // isBare tells whether an atom has nothing but a name.
@@ -27,8 +28,24 @@ func isBare(a api.Atom) bool {
 	return len(a.Form) == 0 && isNought(a.Bound) && !a.Strict
 }
 
+// looker is what was found to be as it must be of long numbers, by keys: many atoms of a table may share a form or a bound that takes long to look at.
+type looker map[string]struct{}
+
+// isAsLooked tells what a look tells of an atom that has a form alone or a bound alone; it is looked at till that is once so.
+func (l looker) isAsLooked(at api.Atom, look func() bool) bool {
+	key := string(keys.WithAtom(nil, at))
+	if _, ok := l[key]; ok {
+		return true
+	}
+	if !look() {
+		return false
+	}
+	l[key] = struct{}{}
+	return true
+}
+
 // isPrime tells whether a form with a part or more is its own shape, written as layer 6 writes it.
-func isPrime(f api.Form) bool {
+func (l looker) isPrime(f api.Form) bool {
 	if len(f) == 0 || f[0].Coef.Num.Neg {
 		return false
 	}
@@ -37,17 +54,19 @@ func isPrime(f api.Form) bool {
 			return false
 		}
 	}
-	return isCoprime(f)
+	return l.isCoprime(f)
 }
 
 // isCoprime is asked of whole coefficients that are normal. Most are small, and of these a table may have so many that each call would take seconds, if layer 6 were asked every time.
-func isCoprime(f api.Form) bool {
+func (l looker) isCoprime(f api.Form) bool {
 	common := uint64(0)
 	for _, part := range f {
 		n, small := word(part.Coef.Num.Abs)
 		if !small {
-			_, times := linear.Prime(f)
-			return ratio.Cmp(times, ratio.Whole(1)) == 0
+			return l.isAsLooked(api.Atom{Form: f}, func() bool {
+				_, times := linear.Prime(f)
+				return ratio.Cmp(times, ratio.Whole(1)) == 0
+			})
 		}
 		common = divisor(common, n)
 		if common == 1 {
@@ -58,15 +77,15 @@ func isCoprime(f api.Form) bool {
 }
 
 // isNormal tells whether a number is written as layer 3 writes it.
-func isNormal(r api.Rat) bool {
+func (l looker) isNormal(r api.Rat) bool {
 	if isNought(r) {
 		return true
 	}
-	return isTrimmed(r.Num.Abs) && isTrimmed(r.Den) && isLowest(r)
+	return isTrimmed(r.Num.Abs) && isTrimmed(r.Den) && l.isLowest(r)
 }
 
 // isLowest is asked of a number whose two parts are normal, and not 0.
-func isLowest(r api.Rat) bool {
+func (l looker) isLowest(r api.Rat) bool {
 	num, shortNum := word(r.Num.Abs)
 	den, shortDen := word(r.Den)
 	switch {
@@ -75,7 +94,7 @@ func isLowest(r api.Rat) bool {
 	case shortNum && shortDen:
 		return divisor(num, den) == 1
 	}
-	return slices.Equal(ratio.Norm(r).Den, r.Den)
+	return l.isAsLooked(api.Atom{Bound: r}, func() bool { return slices.Equal(ratio.Norm(r).Den, r.Den) })
 }
 
 // isNought tells whether a number is 0 and normal.
