@@ -14,6 +14,7 @@ import (
 	"fulcrum/api"
 	"fulcrum/approx"
 	"fulcrum/atoms"
+	"fulcrum/clauses"
 	"fulcrum/delta"
 	"fulcrum/implied"
 	"fulcrum/linear"
@@ -26,7 +27,7 @@ import (
 	"fulcrum/whole"
 )
 
-// The rules R1 to R4 for the layers that are functions on plain data; those of layer 11 are handed a simplex too, those of layer 15 a bank of terms, which they leave as it is. Each function is called with all that its arguments' types may be drawn from; what it was given and what it answers is gone through by reflection, so that a new layer adds no more than a list of its functions.
+// The rules R1 to R4 for the layers that are functions on plain data; those of layer 11 are handed a simplex too, those of layers 15 and 18 a bank of terms, which they leave as it is. Each function is called with all that its arguments' types may be drawn from; what it was given and what it answers is gone through by reflection, so that a new layer adds no more than a list of its functions.
 
 // listed is one of the functions that a chapter lists.
 type listed struct {
@@ -74,6 +75,8 @@ func numberFunctions() []listed {
 		{"meaning.Eval", meaning.Eval}, {"meaning.Names", meaning.Names}, {"meaning.Holds", meaning.Holds}, {"meaning.Complete", meaning.Complete},
 
 		{"atoms.New", atoms.New}, {"atoms.Check", atoms.Check}, {"atoms.Name", atoms.Name}, {"atoms.Below", atoms.Below}, {"atoms.Says", atoms.Says}, {"atoms.Holds", atoms.Holds}, {"atoms.Implies", atoms.Implies}, {"atoms.Text", atoms.Text},
+
+		{"clauses.Norm", clauses.Norm}, {"clauses.Holds", clauses.Holds}, {"clauses.Resolve", clauses.Resolve}, {"clauses.Covers", clauses.Covers}, {"clauses.Encode", clauses.Encode}, {"clauses.Dimacs", clauses.Dimacs}, {"clauses.Parse", clauses.Parse},
 	}
 }
 
@@ -91,6 +94,7 @@ func arguments() drawn {
 		"6/4", "-0/1", "1/", "/1", "1/0", "-0.50", "1.", ".5", "1.5/2", "-0e7", "1e400", "-2E-0324", "1e+", "1e5001", strings.Repeat("1", api.MaxPlaces+1), strings.Repeat("1", 300) + "." + strings.Repeat("0", 300), "-1/" + strings.Repeat("2", 300),
 		"3-1d", "-1/2+1/3d", "0+2d", "d", "+1d", "3+1", "3-0d", "3+-1d", "3+2/4d", "3+1dd", "3+1d ", "3+\xffd", "-" + strings.Repeat("7", 300) + "-1/" + strings.Repeat("2", 300) + "d",
 		"-1*x2+1/2*x10", "1*x-9223372036854775808+1*x9223372036854775807", "0*x1", "1*x", "*x1", "1*x1+", "1*x1+1*x1", "1*x2+1*x1", "2/4*x1", "1*x-0", "1*x9223372036854775808", "1*x\xff", strings.Repeat("1*x1+", 100), strings.Repeat("7", 300) + "*x1+-1/" + strings.Repeat("2", 300) + "*x2",
+		"p cnf 3 2\n1 -2 0\n3 0\n", "c\np cnf 2 1\n1\n-2 0", "p cnf 0 0", "p cnf 1 1\n2 0", "p cnf 1 1\n1", "p cnf 1 0\n0\n",
 	} {
 		add(s)
 	}
@@ -137,7 +141,22 @@ func arguments() drawn {
 	for _, l := range someBindings() {
 		add(l)
 	}
+	addClauses(add)
 	return out
+}
+
+// addClauses adds clauses and lists of them, with what is no literal too, and values.
+func addClauses(add func(v any)) {
+	all := []api.Clause{nil, {}, {1}, {-1}, {2, -3, 2}, {3, 1, -1, 2}, {-2, 1, 3}, {math.MaxInt, -math.MaxInt}, {1, 0}, {2, math.MinInt}}
+	for _, c := range all {
+		add(c)
+	}
+	for _, l := range [][]api.Clause{nil, {}, all[:2], all[2:4], all[2:7], all[4:8], all} {
+		add(l)
+	}
+	for _, l := range [][]bool{nil, {}, {true}, {false, true}, {true, false, true, true}} {
+		add(l)
+	}
 }
 
 // addForms adds all that layer 6 is given: forms, affine ones, lists of weights, of values and of variables.
@@ -285,7 +304,29 @@ func someBanks() []*terms.Bank {
 	} {
 		b.Add(t)
 	}
-	return []*terms.Bank{nil, {}, terms.New(), b}
+	return []*terms.Bank{nil, {}, terms.New(), b, normalBank()}
+}
+
+// normalBank has terms in normal form at the places 0 to 3 and 40.
+func normalBank() *terms.Bank {
+	b := terms.New()
+	b.Declare("p", api.SortBool)
+	b.Declare("q", api.SortBool)
+	add := func(kind int, number int64, kids ...int) int {
+		n, _ := b.Add(api.Term{Kind: kind, Number: ratio.Whole(number), Kids: kids})
+		return n
+	}
+	or := add(api.TermOr, 0, 0, 1)
+	last := add(api.TermIte, 0, or, 0, 1)
+	x, _ := b.Declare("x", api.SortReal)
+	y, _ := b.Declare("y", api.SortReal)
+	sum := add(api.TermAdd, 0, x, add(api.TermScale, -7, y))
+	for i := int64(0); b.Len() < 40; i++ {
+		atom := add(api.TermLess+int(i%2), 0, sum, add(api.TermNumber, i))
+		last = add(api.TermAnd+int(i%2), 0, min(last, atom), max(last, atom))
+	}
+	add(api.TermEqual, 0, or, last)
+	return b
 }
 
 // someBindings has values of all sorts and of none, in which what does not count is something too.
@@ -590,10 +631,11 @@ func isError(v reflect.Value) bool {
 func TestR2NothingBesideAnError(t *testing.T) {
 	eachCall(func(f listed, args []reflect.Value) {
 		l := call(f, args)
-		if !isError(l[len(l)-1]) {
+		at := slices.IndexFunc(l, isError)
+		if at < 0 {
 			return
 		}
-		for _, v := range l[:len(l)-1] {
+		for _, v := range l[:at] { // behind the error its place may be told
 			if tell([]reflect.Value{v}) != tell([]reflect.Value{reflect.Zero(v.Type())}) {
 				t.Fatalf("%s of %s: %s", f.name, tell(args), tell(l))
 			}
@@ -703,7 +745,8 @@ func TestNumbersAreReadAsTheyAre(t *testing.T) {
 
 // isTable: an argument that is a table of layer 17, whose numbers have one way to be written.
 func isTable(f listed, v reflect.Value) bool {
-	return strings.HasPrefix(f.name, "atoms.") && v.Type() == reflect.TypeFor[[]api.Atom]()
+	pack, _, _ := strings.Cut(f.name, ".")
+	return (pack == "atoms" || pack == "clauses") && v.Type() == reflect.TypeFor[[]api.Atom]()
 }
 
 // otherwise is the same value, its numbers written otherwise.
@@ -938,6 +981,8 @@ func isNormal(v reflect.Value) bool {
 		return !slices.ContainsFunc(x, func(a api.Atom) bool {
 			return !isNormal(reflect.ValueOf(a.Form)) || !isNormal(reflect.ValueOf(a.Bound))
 		})
+	case api.Encoded:
+		return isNormal(reflect.ValueOf(x.Atoms))
 	case api.Value:
 		return isAnswer(x)
 	case []api.Binding:
