@@ -5,7 +5,7 @@ import (
 	"testing"
 )
 
-// No row of calls that could be found comes to a step of just 1e100: here it is set.
+// No row of calls is known that comes to a step of just 1e100 (none was looked for: a hit among the floats would be rare): here it is set.
 
 func TestH4AStepJustAtTheMost(t *testing.T) {
 	just, tenth := 9.5e99, 1e-100 // divided by 0.95 the first one is 1e100
