@@ -11,6 +11,7 @@ import (
 	"sync"
 	"testing"
 
+	"fulcrum/analyse"
 	"fulcrum/api"
 	"fulcrum/approx"
 	"fulcrum/atoms"
@@ -77,6 +78,8 @@ func numberFunctions() []listed {
 		{"atoms.New", atoms.New}, {"atoms.Check", atoms.Check}, {"atoms.Name", atoms.Name}, {"atoms.Below", atoms.Below}, {"atoms.Says", atoms.Says}, {"atoms.Holds", atoms.Holds}, {"atoms.Implies", atoms.Implies}, {"atoms.Text", atoms.Text},
 
 		{"clauses.Norm", clauses.Norm}, {"clauses.Holds", clauses.Holds}, {"clauses.Resolve", clauses.Resolve}, {"clauses.Covers", clauses.Covers}, {"clauses.Encode", clauses.Encode}, {"clauses.Dimacs", clauses.Dimacs}, {"clauses.Parse", clauses.Parse},
+
+		{"analyse.Check", analyse.Check}, {"analyse.First", analyse.First}, {"analyse.Less", analyse.Less}, {"analyse.Glue", analyse.Glue}, {"analyse.Replay", analyse.Replay}, {"analyse.Final", analyse.Final},
 	}
 }
 
@@ -142,6 +145,7 @@ func arguments() drawn {
 		add(l)
 	}
 	addClauses(add)
+	addMarks(add)
 	return out
 }
 
@@ -157,6 +161,22 @@ func addClauses(add func(v any)) {
 	for _, l := range [][]bool{nil, {}, {true}, {false, true}, {true, false, true, true}} {
 		add(l)
 	}
+}
+
+// addMarks adds clauses of which marks force some literals and one of which they break, more marks, some that may not be, and what is learnt of them, some of which can't be.
+func addMarks(add func(v any)) {
+	l := []api.Clause{{1}, {-2, 3}, {-2, -1, 4}, {-3, -4, 5}, {-4, -5}}
+	at := func(lit, level, reason int) api.Mark { return api.Mark{Lit: lit, Level: level, Reason: reason} }
+	marks := []api.Mark{at(1, 0, 0), at(6, 1, -1), at(2, 2, -1), at(3, 2, 1), at(4, 2, 2), at(5, 2, 3)}
+	add(l)
+	for _, m := range [][]api.Mark{nil, {}, marks[:1], marks, marks[1:], {at(-2, 1, -1), at(3, 2, -1)}, {at(0, 1, -1), at(math.MinInt, 2, math.MaxInt)}} {
+		add(m)
+	}
+	first, _ := analyse.First(l, marks, 4)
+	for _, o := range []api.Learnt{{}, first, {Clause: api.Clause{-4, -6}, Back: 7, Chain: []int{9, -9}}, {Clause: api.Clause{-4, -3}}, {Clause: api.Clause{2, 0}, Chain: []int{}}} {
+		add(o)
+	}
+	add(first.Chain)
 }
 
 // addForms adds all that layer 6 is given: forms, affine ones, lists of weights, of values and of variables.
