@@ -141,7 +141,9 @@ func TestM1IsOfManyAtomsOfOneForm(t *testing.T) {
 		}
 		return api.Rat{Num: api.Int{Abs: limbs}, Den: api.Nat{1}}
 	}
-	times := func(n api.Rat, kid int) int { return put(t, b, api.Term{Kind: api.TermScale, Number: n, Kids: []int{kid}}) }
+	times := func(n api.Rat, kid int) int {
+		return put(t, b, api.Term{Kind: api.TermScale, Number: n, Kids: []int{kid}})
+	}
 	shape := add(t, b, api.TermAdd, times(long(1), 0), times(long(7), 1))
 	other := add(t, b, api.TermAdd, times(long(1), 0), times(long(1), 1)) // no Prime's shape
 	var all []int
