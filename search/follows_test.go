@@ -67,7 +67,7 @@ func TestF4WithTheories(t *testing.T) {
 				s := newSolver(t, p.atoms, th, p.clauses...)
 				f := wantRight(t, s, p, someLits(r, p.atoms, 3)...)
 				wantSteps(t, p, s.Steps(), th.said)
-				wantWellCalled(t, s, &th.witness)
+				wantWellCalled(t, s, p, &th.witness)
 				kinds[f.Kind]++
 			}
 			wantMany(t, kinds, 50)
@@ -75,14 +75,19 @@ func TestF4WithTheories(t *testing.T) {
 	}
 }
 
-// wantWellCalled: nothing wrong was seen, and no level is begun and not left.
-func wantWellCalled(t *testing.T, s *search.Solver, w *witness) {
+// wantWellCalled: nothing wrong was seen; behind a search no level is begun and not left, and what is asserted still is so in all values.
+func wantWellCalled(t *testing.T, s *search.Solver, p *problem, w *witness) {
 	t.Helper()
 	if len(w.wrong) > 0 {
-		t.Fatalf("the theory was called wrongly: %v of %v", w.wrong, w.calls)
+		t.Fatalf("the theory was called wrongly: %v", w.wrong)
 	}
 	if len(w.begun) > 0 {
 		t.Fatalf("%d levels are begun and not left", len(w.begun))
+	}
+	for _, lit := range w.told {
+		if p.atoms < 10 && p.possible(lits(-lit)) {
+			t.Fatalf("%d is asserted still, and its opposite can be", lit)
+		}
 	}
 }
 
@@ -98,7 +103,7 @@ func TestF4AskedAgain(t *testing.T) {
 				s := newSolver(t, p.atoms, th)
 				wantAskedAgain(t, r, s, p)
 				wantSteps(t, p, s.Steps(), th.said)
-				wantWellCalled(t, s, &th.witness)
+				wantWellCalled(t, s, p, &th.witness)
 			}
 		})
 	}
@@ -146,7 +151,7 @@ func TestF4AtomsComeIn(t *testing.T) {
 				add(t, s, c)
 			}
 			wantRight(t, s, p, someLits(r, p.atoms, 3)...)
-			wantWellCalled(t, s, w)
+			wantWellCalled(t, s, p, w)
 		}
 		wantSteps(t, p, s.Steps(), nil)
 	}

@@ -15,7 +15,7 @@ const (
 )
 
 // manyMarks: for each so many marks one decision more is made ahead of telling the theory.
-const manyMarks = 512
+const manyMarks = 128
 
 // run is one search.
 type run struct {
@@ -32,23 +32,20 @@ func newRun(s *Solver, assume []int) *run {
 	return &run{Solver: s, assume: copied(assume), promised: map[int]struct{}{}, pace: newPace()}
 }
 
-// search goes from state to state up to an answer.
-func (r *run) search() (api.Found, api.Errno) {
+// search goes from state to state up to an answer, or up to what the theory may not say.
+func (r *run) search() api.Found {
 	if r.refuted > 0 {
 		r.repeat()
-		return api.Found{Kind: api.SearchUnsat}, api.OK
+		return api.Found{Kind: api.SearchUnsat}
 	}
 	now := forcing
 	for now < sat && !r.failed {
 		now = r.next(now)
 	}
-	switch {
-	case r.failed:
-		return api.Found{}, api.ErrSolver
-	case now == sat:
-		return api.Found{Kind: api.SearchSat, Model: r.model()}, api.OK
+	if now == sat {
+		return api.Found{Kind: api.SearchSat, Model: r.model()}
 	}
-	return api.Found{Kind: api.SearchUnsat, Core: r.core}, api.OK
+	return api.Found{Kind: api.SearchUnsat, Core: r.core}
 }
 
 func (r *run) next(now state) state {

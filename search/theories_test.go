@@ -12,41 +12,49 @@ import (
 type witness struct {
 	atoms int
 	told  []int
-	begun []int // of each level how many literals had been told ahead
-	calls []string
+	isIn  map[int]bool // those that were told
+	begun []int        // of each level how many literals had been told ahead
+	calls int
 	wrong []string // what a solver may not do
 	final int      // how often Final was asked
 }
 
-func (w *witness) see(may bool, what string) {
-	w.calls = append(w.calls, what)
+func (w *witness) see(may bool, what string, n int) {
+	w.calls++
 	if !may {
-		w.wrong = append(w.wrong, fmt.Sprint(what, " behind ", w.told, " on level ", len(w.begun)))
+		w.wrong = append(w.wrong, fmt.Sprint(what, " of ", n, " behind ", w.told, " on level ", len(w.begun)))
 	}
 }
 
 func (w *witness) Assert(lit int) api.Said {
 	isLit := lit != 0 && lit >= -w.atoms && lit <= w.atoms
-	w.see(isLit && !slices.Contains(w.told, lit) && !slices.Contains(w.told, -lit), fmt.Sprint("Assert of ", lit))
+	w.see(isLit && !w.isIn[lit] && !w.isIn[-lit], "Assert", lit)
+	if w.isIn == nil {
+		w.isIn = map[int]bool{}
+	}
 	w.told = append(w.told, lit)
+	w.isIn[lit] = true
 	return api.Said{}
 }
 
 func (w *witness) Push() {
-	w.see(true, "Push")
+	w.see(true, "Push", 0)
 	w.begun = append(w.begun, len(w.told))
 }
 
 func (w *witness) Back(level int) {
-	w.see(level >= 0 && level <= len(w.begun), fmt.Sprint("Back to ", level))
+	w.see(level >= 0 && level <= len(w.begun), "Back", level)
 	if level >= 0 && level < len(w.begun) {
-		w.told = w.told[:w.begun[level]]
-		w.begun = w.begun[:level]
+		stays := w.begun[level]
+		for _, lit := range w.told[stays:] {
+			delete(w.isIn, lit)
+		}
+		w.told, w.begun = w.told[:stays], w.begun[:level]
 	}
 }
 
 func (w *witness) Final() api.Said {
-	w.see(len(w.told) == w.atoms, "Final")
+	w.see(len(w.told) == w.atoms, "Final", len(w.told))
 	w.final++
 	return api.Said{}
 }
@@ -152,7 +160,7 @@ func (f *fixed) implied() []api.Clause {
 			lit = -lit
 		}
 		share := f.how.implied
-		if slices.Contains(f.told, lit) || slices.Contains(f.told, -lit) {
+		if f.isIn[lit] || f.isIn[-lit] {
 			share = f.how.late
 		}
 		c := slices.DeleteFunc(f.opposites(), func(other int) bool { return other == -lit })
