@@ -120,8 +120,9 @@ func TestTidy(t *testing.T) {
 	s := solver(t, 180, l)
 	s.Solve(nil)
 	wantInOrder(t, s)
-	if s.room == roomAtFirst || s.learnt > s.room+1 {
-		t.Fatalf("room for %d, %d were learnt and kept of %d", s.room, s.learnt, len(s.steps)-len(l))
+	steps := len(s.steps) - len(l)
+	if s.room == roomAtFirst || s.learnt > s.room+1 || s.learnt > steps/2 {
+		t.Fatalf("room for %d, %d were learnt and kept of %d", s.room, s.learnt, steps)
 	}
 }
 
@@ -316,5 +317,47 @@ func TestPromisedOnce(t *testing.T) {
 	r.force()
 	if !r.heed(said) || len(s.clauses) != 2 {
 		t.Fatalf("%v were taken", s.clauses)
+	}
+}
+
+// Atoms that were added are kept as those of New are.
+func TestGrownIsAsNew(t *testing.T) {
+	const atoms = 9
+	made, grown := solver(t, atoms, nil), solver(t, 0, nil)
+	for range atoms {
+		grown.Grow()
+	}
+	if !slices.Equal(made.facts, grown.facts) || !slices.Equal(made.heard, grown.heard) || !slices.Equal(made.liked, grown.liked) {
+		t.Fatalf("%+v is not as %+v", grown, made)
+	}
+	if len(grown.facts) != atoms+1 || len(grown.heard) != atoms+1 || len(grown.liked) != atoms+1 {
+		t.Fatalf("a list is no longer than %d", atoms)
+	}
+}
+
+// A search begins anew far less often than there are conflicts, but again and again.
+func TestBeginsAnew(t *testing.T) {
+	l := hard(rand.New(rand.NewSource(3)), 180, 180*426/100)
+	b := &begins{}
+	s, _ := New(180, b)
+	for _, c := range l {
+		s.Add(c)
+	}
+	s.Solve(nil)
+	runs := (len(s.steps) - len(l)) / firstRun
+	if runs < 20 || b.anew < runs/4 || b.anew > 2*runs {
+		t.Fatalf("%d beginnings, %d times %d conflicts", b.anew, runs, firstRun)
+	}
+}
+
+// begins counts how often all levels are left.
+type begins struct {
+	counted
+	anew int
+}
+
+func (b *begins) Back(level int) {
+	if level == 0 {
+		b.anew++
 	}
 }

@@ -380,3 +380,21 @@ func TestTheoryAddsInFinal(t *testing.T) {
 	wantInt(t, "how many were added", len(p.clauses), 7)
 	wantSteps(t, p, s.Steps(), nil)
 }
+
+// An atom that a theory adds in Final has a truth, and is asserted, ahead of the answer.
+func TestTheoryGrowsInFinal(t *testing.T) {
+	l := &liar{witness: witness{atoms: 2}}
+	p := &problem{atoms: 2, clauses: []api.Clause{{1, 2}}}
+	s := newSolver(t, 2, l, p.clauses...)
+	l.final = func() api.Said {
+		if p.atoms < 5 {
+			p.atoms++
+			l.atoms = p.atoms
+			grow(t, s, p.atoms)
+		}
+		return api.Said{}
+	}
+	wantSat(t, "three atoms more", solve(t, s, p, 1))
+	wantInt(t, "how often Final was asked", l.witness.final, 4)
+	wantWellCalled(t, s, p, &l.witness)
+}

@@ -172,3 +172,54 @@ func (h *honest) Assert(int) api.Said { return h.said }
 func (h *honest) Push()               {}
 func (h *honest) Back(int)            {}
 func (h *honest) Final() api.Said     { return h.said }
+
+// A clause of Implied of which all literals are false is a Clash like others.
+func TestImpliedThatIsFalseIsAClash(t *testing.T) {
+	l := &liar{witness: witness{atoms: 2}}
+	l.assert = func(int) api.Said {
+		if len(l.told) < 2 {
+			return api.Said{}
+		}
+		return implied(api.Clause{-1, -2})
+	}
+	p := &problem{atoms: 2, clauses: []api.Clause{{1}, {2}}}
+	s := newSolver(t, 2, l, p.clauses...)
+	wantUnsat(t, "1 and 2", solve(t, s, p))
+	wantInt(t, "how often Final was asked", l.witness.final, 0)
+	wantSteps(t, p, s.Steps(), []api.Clause{{-1, -2}})
+}
+
+// Atoms that came behind New, and behind searches, are the theory's like others.
+func TestTheoryOfAtomsThatGrew(t *testing.T) {
+	r := rand.New(rand.NewSource(76))
+	for seed := range 200 {
+		p := &problem{stands: []truths{{false}}}
+		th := newFixed(0, p.stands, manners()["now and then"], int64(seed))
+		s := newSolver(t, 0, th)
+		for p.atoms < 6 {
+			p.atoms++
+			grow(t, s, p.atoms)
+			th.atoms, p.stands = p.atoms, longer(r, p.stands)
+			th.stands = p.stands
+			c := someClause(r, p.atoms)
+			p.clauses = append(p.clauses, c)
+			add(t, s, c)
+			wantRight(t, s, p, someLits(r, p.atoms, 3)...)
+			wantWellCalled(t, s, p, &th.witness)
+		}
+		wantSteps(t, p, s.Steps(), th.said)
+	}
+}
+
+// longer is values with one truth more: what holds of those ahead holds of them.
+func longer(r *rand.Rand, stands []truths) []truths {
+	out := []truths{}
+	for _, v := range stands {
+		for _, truth := range []bool{false, true} {
+			if r.Intn(5) > 0 {
+				out = append(out, append(slices.Clone(v), truth))
+			}
+		}
+	}
+	return out
+}
